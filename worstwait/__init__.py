@@ -1,0 +1,1 @@
+"""Worstwait: how long anything waits at most, told for all that keeps its promises."""
