@@ -37,7 +37,7 @@ def is_bookings(thing):
         return False
     if not all([is_booking(one) for one in thing]):
         return False
-    return len({name for name, promise, deadline in thing}) == len(thing)
+    return len({booking[0] for booking in thing}) == len(thing)
 
 
 def need_bookings(thing):
@@ -81,6 +81,6 @@ def breaking(table, bookings):
     if beat > MOST_ROW:
         raise TooMany(MOST_ROW)
     most = at(gate_curve(table), beat) + 1
-    rows = [first_values(closure(promise), beat + 1) for _, promise, _ in bookings]
+    rows = [first_values(closure(booking[1]), beat + 1) for booking in bookings]
     told = tuple([tuple([min(one, most) for one in row]) for row in rows])
     return beat, least_phase(table, beat), told
