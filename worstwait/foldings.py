@@ -76,16 +76,17 @@ def folded_unlike(slow, fast, step):
     many = begin + step
     early = early_sums(slow, fast, many)
     late_ones = late_sums(slow, fast, many)
+    last = None
     if early:
         last = last_above(late_ones[begin:], early[begin:], begin, gain_in(fast, slow, step))
-        if last is not None and last >= MOST_MADE:
-            # The least form ends behind the last beat at which an early sum is less.
-            raise TooMany(MOST_MADE)
-        if last is not None:
-            begin = last + 1
-    many = begin + slow.period
-    sums = both_sums(early_sums(slow, fast, many), late_sums(slow, fast, many))
-    return made(sums, slow.period, slow.growth)
+    if last is not None and last >= MOST_MADE:
+        # The least form ends behind the last beat at which an early sum is less.
+        raise TooMany(MOST_MADE)
+    enough = slow.period + (begin if last is None else last + 1)
+    if enough > many:
+        early = early_sums(slow, fast, enough)
+        late_ones = late_sums(slow, fast, enough)
+    return made(both_sums(early, late_ones)[:enough], slow.period, slow.growth)
 
 
 def early_sums(slow, fast, many):

@@ -60,7 +60,7 @@ class Reader:
         self.place = 0
         self.short = False
 
-    def number(self, many):
+    def take(self, many):
         """The number in the next so many bytes, the lowest one first."""
         told = self.page[self.place:self.place + many]
         if len(told) < many:
@@ -79,8 +79,8 @@ def page_read(thing):
     if not all([is_from(one, 0, 255) for one in thing]):
         return None
     reader = Reader(list(thing))
-    number = reader.number(4)
-    many = reader.number(1)
+    number = reader.take(4)
+    many = reader.take(1)
     if many > MOST_BOOKINGS:
         return None
     bookings = []
@@ -97,14 +97,14 @@ def page_read(thing):
 
 def booking_read(reader):
     """The booking that comes next; None if none can be read."""
-    name = word_read([reader.number(1) for _ in range(reader.number(1))])
-    deadline = reader.number(2)
-    many = reader.number(2)
-    period = reader.number(1)
-    growth = reader.number(4)
+    name = word_read([reader.take(1) for _ in range(reader.take(1))])
+    deadline = reader.take(2)
+    many = reader.take(2)
+    period = reader.take(1)
+    growth = reader.take(4)
     if reader.short or many > MOST_GIVEN:
         return None
-    start = [reader.number(4) for _ in range(many)]
+    start = [reader.take(4) for _ in range(many)]
     if reader.short:
         return None
     try:

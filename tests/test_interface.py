@@ -1,0 +1,66 @@
+"""The interface: names, arguments, and the files in which they are defined."""
+
+import importlib
+import inspect
+import unittest
+
+ROWS = {
+    "curves": "Curve(start, period, growth); value(curve, beat); values(curve, beats); flat(number); "
+              "line(burst, steps, beats); late(wait, steps, beats); rate(curve)",
+    "joined": "first_above(curve, other); is_below(curve, other); least_of(curve, other); "
+              "most_of(curve, other); sum_of(curve, other); later(curve, beats); sooner(curve, beats); "
+              "raised(curve, number); times(curve, number)",
+    "examples": "examples()",
+    "foldings": "unit(); folding(curve, other); split_at(curve, other, beat)",
+    "closures": "closure(curve); first_break(curve); is_closed(curve); cuts(curve, beat)",
+    "fewparts": "within(curve, number); most_parts(curve)",
+    "gates": "is_timetable(thing); let_through(table, phase, beats); least_phase(table, beats); "
+             "gate_curve(table); gate_most(table)",
+    "bookings": "is_bookings(thing); due_curve(bookings); all_kept(table, bookings); "
+                "breaking(table, bookings)",
+    "inverses": "reach(curve); passed(curve)",
+    "joints": "joint(promises); either(promises)",
+    "morebookings": "least_deadline(table, bookings, promise); "
+                    "most_times(table, bookings, promise, deadline); added(table, other)",
+    "nets": "Net(servers, flows); stops(net); sequence(net)",
+    "netplays": "net_played(net, comes, gifts); is_lawful(net, comes, gifts); met(net, comes, gifts)",
+    "pages": "page_bytes(room, number, bookings); page_read(thing)",
+    "keepers": "Keeper(table, room, pages); fallen_pages(keeper, cut)",
+    "renames": "renamed_net(net, servers, flows); net_renaming(net, other)",
+    "stations": "Station(speeds, rule); is_rows(station, thing); rotated(station, phase)",
+    "plays": "played(station, rows); letter_waits(station, rows); left_heaps(station, rows); "
+             "first_unlike(station, rows, thing)",
+    "parcelplays": "played_parcels(speeds, flows)",
+}
+METHODS = {("keepers", "Keeper"): "ask(self, name, promise, deadline); drop(self, name)"}
+
+
+def taken(thing):
+    return [name for name in inspect.signature(thing).parameters]
+
+
+def parts(row):
+    for one in row.split("; "):
+        name, _, rest = one.partition("(")
+        yield name, [word for word in rest.rstrip(")").split(", ") if word]
+
+
+class Interface(unittest.TestCase):
+    def test_names_and_arguments(self):
+        for file, row in ROWS.items():
+            module = importlib.import_module("worstwait." + file)
+            for name, wanted in parts(row):
+                thing = getattr(module, name)
+                self.assertEqual(taken(thing), wanted, name)
+                self.assertEqual(thing.__module__, "worstwait." + file, name)
+                self.assertEqual(inspect.isclass(thing), name[0].isupper(), name)
+
+    def test_methods_stand_in_their_class(self):
+        for (file, name), row in METHODS.items():
+            module = importlib.import_module("worstwait." + file)
+            for method, wanted in parts(row):
+                self.assertEqual(taken(vars(getattr(module, name))[method]), wanted)
+
+
+if __name__ == "__main__":
+    unittest.main()
