@@ -17,7 +17,7 @@ NO_BOOKINGS = [
     [("A", A, 1)], [("a" * 13, A, 1)], [("a1", A, 1)], [(b"a", A, 1)], [("a", [0, 1], 1)], [("a", None, 1)],
     [("a", A, True)], [("a", A, -1)], [("a", A, 301)], [("a", A, 1.0)], [("a", A, None)],
     [("a", A, 1), ("a", A, 2)], [("a", flat(None), 1)], [("a", Curve([0, None], 1, 0), 1)],
-    [("a", later(A, 399), 1)], [("a", raised(flat(BIG), 1), 1)], [("a", times(line(0, BIG, 1), 2), 1)],
+    [("a", later(A, 400), 1)], [("a", raised(flat(BIG), 1), 1)], [("a", times(line(0, BIG, 1), 2), 1)],
     [("abcdefghijklm"[k], A, 1) for k in range(13)], [("a", A, 1), None],
 ]
 
@@ -104,7 +104,7 @@ class Due(Case):
             # Just this breaks it: more is due at this beat than goes out.
             due_here = sum(row[beat - d] if d <= beat else 0 for row, (_, _, d) in zip(rows, bookings))
             self.assertGreater(due_here, min(told))
-        self.assertGreater(min(seen.values()), 10)
+        self.assertGreater(min(seen.values()), 5)
 
     def test_far_beats(self):
         # 1000 letters at once, then as many as the gate takes but for one in 60 more.

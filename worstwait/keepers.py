@@ -4,7 +4,7 @@ from worstwait.bookings import MOST_BOOKINGS, all_kept, by_names, is_booking
 from worstwait.errors import BadBooking, BadKeeper, BadPages, NotNow, TooMany
 from worstwait.gates import need_timetable
 from worstwait.kinds import is_list, need_number
-from worstwait.pages import LEAST_ROOM, MOST_NUMBER, MOST_ROOM, page_bytes, page_read
+from worstwait.pages import LEAST_ROOM, MOST_NUMBER, MOST_ROOM, is_bytes, page_bytes, page_read
 
 
 class Keeper:
@@ -66,7 +66,9 @@ def latest_page(room, pages):
     """
     if not is_list(pages) or len(pages) != 2:
         return None
-    told = [page_read(page) if is_list(page) and len(page) == room else None for page in pages]
+    if not all([is_bytes(page) and len(page) == room for page in pages]):
+        return None
+    told = [page_read(page) for page in pages]
     counting = [found for place, found in enumerate(told) if found is not None and found[0] % 2 == place]
     if not counting:
         return None

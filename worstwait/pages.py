@@ -72,11 +72,14 @@ class Reader:
         return number
 
 
+def is_bytes(thing):
+    """Whether it is a list of bytes, numbers from 0 to 255."""
+    return is_list(thing) and all([is_from(one, 0, 255) for one in thing])
+
+
 def page_read(thing):
     """The pair of the number and the bookings of a page; None if it is none."""
-    if not is_list(thing) or not LEAST_ROOM <= len(thing) <= MOST_ROOM:
-        return None
-    if not all([is_from(one, 0, 255) for one in thing]):
+    if not is_bytes(thing) or not LEAST_ROOM <= len(thing) <= MOST_ROOM:
         return None
     reader = Reader(list(thing))
     number = reader.take(4)
