@@ -15,7 +15,7 @@ def is_parcel(thing):
     return is_from(thing[0], 0, 59) and is_from(thing[1], 1, 60)
 
 
-def is_flows(thing):
+def is_parcels(thing):
     """Whether it is a list of 1 to 4 lists of parcels, their beats never falling."""
     if not is_list(thing) or not 1 <= len(thing) <= 4:
         return False
@@ -35,7 +35,7 @@ def played_parcels(speeds, flows):
     """For each flow the beats in which the last letters of its parcels leave."""
     if not is_speeds(speeds):
         raise BadStation("speeds")
-    if not is_flows(flows):
+    if not is_parcels(flows):
         raise BadParcels("a list of 1 to 4 lists of pairs of beat and size is wanted")
     ends = [[] for _ in flows]
     begun = None
