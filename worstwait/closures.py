@@ -107,17 +107,26 @@ def least_behind(back, told, shortest):
 def closed_by_growth(parts):
     """The closure of a curve no part of which is as cheap as its growth.
 
-    Its period is that of the curve. If the costs go on by it for as many
+    Its period is that of the curve. Once the costs go on by it for as many
     beats as the longest of the parts has, they do so for ever.
     """
-    many = MOST_MADE + parts.many + parts.step
-    costs = least_costs(parts, many)
-    begin = many - parts.step
-    while begin > 0 and costs[begin - 1 + parts.step] == costs[begin - 1] + parts.growth:
+    many = 4 * parts.many
+    while True:
+        costs = least_costs(parts, many + parts.many + parts.step)
+        begin = goes_on_from(costs, parts.step, parts.growth)
+        if begin <= many and begin < MOST_MADE:
+            return made(costs[:begin + parts.step], parts.step, parts.growth)
+        if many >= MOST_MADE:
+            raise TooMany(MOST_MADE)
+        many = 4 * many
+
+
+def goes_on_from(costs, step, growth):
+    """The least beat from which on the costs go on by a period, as far as they are told."""
+    begin = len(costs) - step
+    while begin > 0 and costs[begin - 1 + step] == costs[begin - 1] + growth:
         begin -= 1
-    if begin >= MOST_MADE:
-        raise TooMany(MOST_MADE)
-    return made(costs[:begin + parts.step], parts.step, parts.growth)
+    return begin
 
 
 def closed_by_part(parts, best):
