@@ -21,39 +21,39 @@ class Keeper:
         self.number, self.bookings = found
         self.pages = tuple(pages[0]), tuple(pages[1])
         # The page that was written over last, for what is found behind a fall.
-        self.covered = None
+        self._covered = None
 
     def ask(self, name, promise, deadline):
         """Whether the booking is taken: it is, if all are kept with it."""
         booking = name, promise, deadline
         if not is_booking(booking):
             raise BadBooking("a word, a promise and a deadline are wanted")
-        if self.has(name) or len(self.bookings) == MOST_BOOKINGS:
+        if self._has(name) or len(self.bookings) == MOST_BOOKINGS:
             raise NotNow("there is one of this name, or there are 12")
         bookings = by_names(self.bookings + [booking])
         if not all_kept(self.table, bookings):
             return False
-        self.write(bookings)
+        self._write(bookings)
         return True
 
     def drop(self, name):
         """The booking of this name is there no longer."""
-        if not self.has(name):
+        if not self._has(name):
             raise NotNow("there is none of this name")
-        self.write([booking for booking in self.bookings if booking[0] != name])
+        self._write([booking for booking in self.bookings if booking[0] != name])
 
-    def has(self, name):
+    def _has(self, name):
         """Whether there is a booking of this name."""
         return isinstance(name, str) and name in [booking[0] for booking in self.bookings]
 
-    def write(self, bookings):
+    def _write(self, bookings):
         """Write the next page, and keep these bookings from now on."""
         if self.number == MOST_NUMBER:
             raise TooMany(MOST_NUMBER)
         number = self.number + 1
         page = page_bytes(self.room, number, bookings)
         place = number % 2
-        self.covered = self.pages[place]
+        self._covered = self.pages[place]
         self.pages = (page, self.pages[1]) if place == 0 else (self.pages[0], page)
         self.number = number
         self.bookings = bookings
@@ -79,9 +79,9 @@ def fallen_pages(keeper, cut):
     """The pages found if the keeper fell when this much of its last page was written."""
     if not isinstance(keeper, Keeper):
         raise BadKeeper("a keeper is wanted")
-    if keeper.covered is None:
+    if keeper._covered is None:
         raise NotNow("the keeper wrote nothing yet")
     need_number(cut, 0, keeper.room, "cut")
     place = keeper.number % 2
-    page = keeper.pages[place][:cut] + keeper.covered[cut:]
+    page = keeper.pages[place][:cut] + keeper._covered[cut:]
     return (page, keeper.pages[1]) if place == 0 else (keeper.pages[0], page)

@@ -25,6 +25,13 @@ def is_word(thing):
     return all(["a" <= sign <= "z" for sign in thing])
 
 
+def has_just(thing, words):
+    """Whether it is a dict that has just these words, all unlike, as its keys."""
+    if not isinstance(thing, dict) or len(thing) != len(words):
+        return False
+    return all([word in thing for word in words])
+
+
 def need_number(thing, low, high, part):
     """Raise the error that names this part unless it is a number from low to high."""
     if not is_from(thing, low, high):

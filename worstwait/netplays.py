@@ -2,7 +2,7 @@
 
 from worstwait.curves import at, is_above
 from worstwait.errors import BadPlay
-from worstwait.kinds import is_from, is_list
+from worstwait.kinds import has_just, is_from, is_list
 from worstwait.nets import need_net, sequence
 
 MOST_BEATS = 60
@@ -11,9 +11,7 @@ MOST_LETTERS = 10 ** 6
 
 def is_told(thing, words):
     """Whether it is a dict from just these words to lists of numbers of one length."""
-    if not isinstance(thing, dict) or len(thing) != len(words):
-        return False
-    if not all([word in thing for word in words]):
+    if not has_just(thing, words):
         return False
     rows = list(thing.values())
     if not all([is_list(row) and 1 <= len(row) <= MOST_BEATS for row in rows]):

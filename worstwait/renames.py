@@ -3,15 +3,13 @@
 from itertools import permutations
 
 from worstwait.errors import BadNames
-from worstwait.kinds import is_word
+from worstwait.kinds import has_just, is_word
 from worstwait.nets import Net, need_net
 
 
 def is_renaming(thing, words):
     """Whether it is a dict from just these words to unlike words."""
-    if not isinstance(thing, dict) or len(thing) != len(words):
-        return False
-    if not all([word in thing for word in words]):
+    if not has_just(thing, words):
         return False
     told = list(thing.values())
     return all([is_word(word) for word in told]) and len(set(told)) == len(told)
