@@ -58,6 +58,24 @@ class Closures(Case):
                       Curve([0, 7, 7, 9], 3, 6), Curve([1, 3, 3], 3, 5), Curve([0, 3, 3], 3, 5)):
             self.same(closure(curve), plain_closure(curve, 900))
 
+    def test_parts_longer_than_the_start(self):
+        # The growth is next to as cheap as the cheapest part, so that far parts count.
+        for row, period, growth in (([0] + [25] * 5 + [31, 35, 42, 47, 52, 55, 60], 7, 35),
+                                    ([0] + [15] * 5 + [18, 22, 24, 29, 31, 34], 4, 12),
+                                    ([0] + [66] * 11 + [73, 80, 84, 91, 96, 104, 108, 116, 120], 7, 42),
+                                    ([0] + [6] * 6 + [8, 8, 9, 10, 11, 12, 14], 7, 7)):
+            self.same(closure(Curve(row, period, growth)), plain_closure(Curve(row, period, growth), 400))
+        lots = Lots(38)
+        for _ in range(60):
+            cheap, period = 2 + lots.below(9), 1 + lots.below(7)
+            cost = cheap * (1 + lots.below(9))
+            row = [0] + [cost] * cheap
+            while len(row) < cheap + period + 1 + lots.below(3):
+                row.append(max(row[-1], -(-cost * len(row) // cheap) + lots.below(3)))
+            growth = max(row[-1] - row[len(row) - period], -(-cost * period // cheap)) + lots.below(2)
+            curve = Curve(row, period, growth)
+            self.same(closure(curve), plain_closure(curve, 250))
+
     def test_greatest(self):
         lots = Lots(33)
         for _ in range(80):

@@ -82,6 +82,8 @@ class Inverses(Case):
         self.assertEqual(value(reach(later(line(0, 1, 60), 3000)), 10 ** 9), 3000 + 60 * 10 ** 9)
         self.assertEqual(len(reach(Curve([0, 3999], 1, 1)).start), 4000)
         self.too_many(4000, reach, Curve([0, 4000], 1, 1))
+        self.assertEqual(len(passed(Curve([0, 4000], 1, 1)).start), 4000)
+        self.too_many(4000, passed, Curve([0, 4001], 1, 1))
 
     def test_refuses(self):
         for thing in (None, 0, [0, 1], "curve"):

@@ -7,7 +7,7 @@ from worstwait.errors import BadNet, BadPlay
 from worstwait.joined import later
 from worstwait.netplays import is_lawful, met, net_played
 from worstwait.nets import Net, sequence
-from tests.plain import Case, Lots, numbers
+from tests.plain import Case, Lots, numbers, some_curve
 from tests.test_nets import NO_NETS, some_net
 
 
@@ -91,6 +91,19 @@ class Plays(Case):
             self.assertIs(is_lawful(net, comes, gifts), told)
             lawful[told] += 1
         self.assertGreater(min(lawful.values()), 25)
+
+    def test_promises_alone(self):
+        lots = Lots(152)
+        lawful = {True: 0, False: 0}
+        for _ in range(300):
+            promise = some_curve(lots, 5, 3)
+            net = Net((("a", flat(0)),), (("x", promise, ("a",), 0), ("y", flat(None), ("a",), 0)))
+            row = [lots.of([0, 0, 1, 2, 4]) for _ in range(1 + lots.below(6))]
+            comes, gifts = {"x": row, "y": [0] * len(row)}, {"a": [0] * len(row)}
+            told = plain_lawful(net, comes, gifts, plain_play(net, comes, gifts))
+            self.assertIs(is_lawful(net, comes, gifts), told)
+            lawful[told] += 1
+        self.assertGreater(min(lawful.values()), 50)
 
     def test_by_hand(self):
         server = (("hub", late(1, 2, 1)),)

@@ -103,7 +103,8 @@ class Pages(Case):
         self.assertIsNone(page_read(page(2, two, one)))
         self.assertIsNone(page_read(page(2, one, one)))
         self.assertIsNone(page_read(page(1, one, two)))
-        self.assertIsNone(page_read(page(1, one[:1] + (96,) + one[2:])))
+        for byte in (0, 65, 96, 123, 255):
+            self.assertIsNone(page_read(page(1, one[:1] + (byte,) + one[2:])))
         self.assertIsNone(page_read(page(1, (0,) + one[2:])))
         longer = (1, 97, 0, 0, 2, 0, 1, 0, 0, 0, 0) + (1, 0, 0, 0) * 2
         self.assertIsNone(page_read(page(1, longer)))
