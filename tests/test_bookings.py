@@ -5,6 +5,7 @@ import unittest
 from worstwait.bookings import all_kept, breaking, due_curve, is_bookings
 from worstwait.curves import Curve, flat, line, values
 from worstwait.errors import BadBookings, BadTimetable
+from worstwait.inverses import reach
 from worstwait.joined import later, raised, times
 from tests.plain import INF, NO_NUMBERS, Case, Lots, numbers, some_curve
 from tests.test_closures import plain_closure, two_parts
@@ -17,7 +18,8 @@ NO_BOOKINGS = [
     [("A", A, 1)], [("a" * 13, A, 1)], [("a1", A, 1)], [(b"a", A, 1)], [("a", [0, 1], 1)], [("a", None, 1)],
     [("a", A, True)], [("a", A, -1)], [("a", A, 301)], [("a", A, 1.0)], [("a", A, None)],
     [("a", A, 1), ("a", A, 2)], [("a", flat(None), 1)], [("a", Curve([0, None], 1, 0), 1)],
-    [("a", later(A, 400), 1)], [("a", raised(flat(BIG), 1), 1)], [("a", times(line(0, BIG, 1), 2), 1)],
+    [("a", later(A, 400), 1)], [("a", reach(Curve([0], 1, 61)), 1)],
+    [("a", raised(flat(BIG), 1), 1)], [("a", times(line(0, BIG, 1), 2), 1)],
     [("abcdefghijklm"[k], A, 1) for k in range(13)], [("a", A, 1), None],
 ]
 
@@ -48,7 +50,7 @@ class Judged(Case):
         for thing in ([], (), [("a", A, 0)], (("b", A, 300), ("a", A, 0)), [("a" * 12, flat(BIG), 1)],
                       [("abcdefghijkl"[k], A, 1) for k in range(12)],
                       [("a", Curve([5, 2 + 3, None], 1, 0), 1)], [("a", Curve([0] * 400, 1, 0), 1)],
-                      [("a", Curve([0] * 60, 60, BIG), 1)]):
+                      [("a", Curve([0] * 60, 60, BIG), 1)], [("a", Curve([0] * 399 + [1], 1, 0), 1)]):
             self.assertIs(is_bookings(thing), True)
         for thing in NO_BOOKINGS:
             self.assertIs(is_bookings(thing), False)
@@ -116,6 +118,9 @@ class Due(Case):
         beat = breaking((1,), creeping)[0]
         due, gate = plain_due(creeping, 900), plain_gate((1,), 900)
         self.assertEqual(beat, [t for t in range(900) if due[t] > gate[t]][0])
+        self.assertEqual(breaking((1,), [("a", line(1, 25, 24), 40)])[0], 1000)
+        self.assertEqual(len(breaking((1,), [("a", line(1, 25, 24), 40)])[2][0]), 1001)
+        self.too_many(1000, breaking, (1,), [("a", line(1, 11, 10), 91)])
         self.assertFalse(all_kept((1,), [("a", line(1, 60, 59), 300)]))
         self.too_many(1000, breaking, (1,), [("a", line(1, 60, 59), 300)])
 
