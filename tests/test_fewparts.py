@@ -7,7 +7,8 @@ from worstwait.curves import Curve, flat, line
 from worstwait.errors import BadCurve, BadNumber, TooMany
 from worstwait.fewparts import most_parts, within
 from worstwait.foldings import unit
-from worstwait.joined import later
+from worstwait.inverses import reach
+from worstwait.joined import later, raised
 from tests.plain import INF, NO_NUMBERS, Case, Lots, numbers, some_curve
 from tests.test_closures import two_parts
 
@@ -51,6 +52,10 @@ class Within(Case):
         # With 0 at beat 0 a start may become longer by one value.
         curve = later(flat(1), 3999)
         self.assertEqual(within(curve, 1), curve)
+        curve = raised(reach(Curve([0], 1, 4000)), 1)
+        self.assertEqual(len(curve.start), 4000)
+        self.too_many(4000, within, curve, 1)
+        self.assertEqual(within(curve, 0), unit())
 
 
 class MostParts(Case):

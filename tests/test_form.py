@@ -261,8 +261,6 @@ class Kept(unittest.TestCase):
                 where = f"{file}:{node.lineno}"
                 if isinstance(above, (ast.For, ast.comprehension)):
                     self.assertIs(above.iter, node, where)
-                elif isinstance(above, ast.Assign):
-                    self.assertEqual(name, "range", where)
                 else:
                     self.assertIsInstance(above, ast.Call, where)
                     self.assertIn(ast.unparse(above.func), ("list", "tuple", "enumerate", "zip", "permutations"),

@@ -103,8 +103,7 @@ def leavings(station, rows):
 def played(station, rows):
     """For each beat how many letters of each flow leave."""
     told = leavings(station, rows)
-    flows = range(station.flows)
-    return tuple([tuple([gone.count(flow) for flow in flows]) for gone in told])
+    return tuple([tuple([gone.count(flow) for flow in range(station.flows)]) for gone in told])
 
 
 def letter_waits(station, rows):
