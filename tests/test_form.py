@@ -12,12 +12,12 @@ import unittest
 FOLDER = os.path.join(os.path.dirname(os.path.dirname(os.path.abspath(__file__))), "worstwait")
 LIBRARY = {"heapq": {"heappush", "heappop"}, "math": {"gcd", "lcm"}, "itertools": {"permutations"}}
 BUILTINS = set("""len range enumerate zip min max sum abs sorted reversed int str bool list tuple dict set
-isinstance ord repr any all divmod ValueError KeyError""".split())
-METHODS = set("append clear copy count extend get index insert items join keys pop remove setdefault update "
-              "values".split())
+isinstance ord repr any all divmod type ValueError KeyError""".split())
+METHODS = set("append clear copy count extend get index insert items join keys pop remove setdefault startswith "
+              "update values".split())
 BARRED = set("""mro elements open input law version_info with_traceback add_note register attrgetter breakpoint
 builtins compile copyright credits delattr dir eval exec exit gc getattr globals hasattr help id importlib
-license locals methodcaller os quit setattr super type vars sys typing enum""".split())
+license locals methodcaller os quit setattr super vars sys typing enum""".split())
 SIMPLE = (ast.Assign, ast.AugAssign, ast.If, ast.While, ast.For, ast.Return, ast.Break, ast.Continue, ast.Raise,
           ast.Try, ast.Expr, ast.FunctionDef, ast.ClassDef, ast.ImportFrom, ast.ExceptHandler)
 
@@ -60,6 +60,8 @@ def is_plain(node):
         return is_plain(node.left) and is_plain(node.right)
     if isinstance(node, ast.Tuple):
         return all(is_plain(one) for one in node.elts)
+    if isinstance(node, ast.Dict):
+        return all(is_plain(one) and not isinstance(one, ast.Dict) for one in node.keys + node.values)
     return isinstance(node, ast.Constant)
 
 
@@ -226,7 +228,17 @@ class Statements(unittest.TestCase):
         for where, node in nodes(ast.Compare):
             for op, right in zip(node.ops, node.comparators):
                 if isinstance(op, (ast.Is, ast.IsNot)):
-                    self.assertIsInstance(right, ast.Constant, where)
+                    kinds = ast.unparse(node.left).startswith("type(") and ast.unparse(right) == "int"
+                    self.assertTrue(isinstance(right, ast.Constant) or kinds, where)
+
+    def test_kinds_are_asked_on_the_spot(self):
+        """type(x) stands beside is and is not alone, and the word nowhere else but in docstrings and comments."""
+        many = 0
+        for where, node in nodes(ast.Compare):
+            if isinstance(node.left, ast.Call) and ast.unparse(node.left.func) == "type":
+                self.assertIsInstance(node.ops[0], (ast.Is, ast.IsNot), where)
+                many += 1
+        self.assertEqual(many, len([1 for _, node in nodes(ast.Name) if node.id == "type"]))
 
     def test_eq_asks_for_its_class_first(self):
         for file, tree in parsed():

@@ -31,6 +31,33 @@ ROWS = {
     "plays": "played(station, rows); letter_waits(station, rows); left_heaps(station, rows); "
              "first_unlike(station, rows, thing)",
     "parcelplays": "played_parcels(speeds, flows)",
+    "stationlines": "played_line(lines, traffic); line_waits(lines, traffic)",
+    "systems": "System(bases, arcs); is_solution(system, thing); solved(system); still_joints(system); "
+               "least_solved(system); is_one(system)",
+    "throughs": "shift(number, beats); through(system, to, joint); without(system, joint)",
+    "traffics": "is_traffic(thing); is_row(thing); is_endless(thing); row_of(traffic); traffic_of(row); "
+                "curve_of(traffic); first_beats(endless, beats)",
+    "earliest": "is_way_out(table, phase, rows, thing); earliest_run(table, phase, rows, deadlines); "
+                "missed(rows, ways, deadlines)",
+    "gatelines": "round_of(gates); gates_run(gates, phase, row); line_curve(gates); slow_phase(gates, beats)",
+    "promises": "breach(traffic, promise); keeps(traffic, promise)",
+    "rankings": "ranks_run(table, phase, rows); ranks_kept(table, bookings); "
+                "ranks_breaking(table, bookings); ranks_order(table, bookings)",
+    "rests": "rest_of(traffic, promise); room(traffic, promise); Meter(promise); metered(meter, letters)",
+    "counts": "all_rests(promise); all_moves(promise); count_kept(promise, beats); "
+              "kept_at(promise, beats, place); kept_place(promise, traffic)",
+    "runs": "is_run(thing); run_heaps(run); run_waits(run); is_bundle(thing); all_together(bundle)",
+    "services": "service_break(run, service); keeps_service(run, service); least_gone(came, service)",
+    "parcels": "whole_parcels(row, sizes); parcel_service(service, most); parcel_promise(promise, most)",
+    "ranks": "left_by_rank(service, above); left_first_come(service, others, beats)",
+    "sharing": "left_by_turns(service, quanta, flow); left_by_shares(service, shares, flow)",
+    "strictly": "strict_break(run, service); keeps_strictly(run, service); lazy_gone(came, service)",
+    "bundles": "is_by_rank(bundle); is_first_come(bundle); is_by_turns(bundle, quanta); "
+               "is_by_shares(bundle, shares)",
+    "unfoldings": "unfolding(curve, other); spread_at(curve, other, beat)",
+    "curvetexts": "curve_text(curve); tail_of_curve_text(text); curve_of_text(text)",
+    "bookingtexts": "bookings_text(bookings); tail_of_bookings_text(text); bookings_of_text(text); "
+                    "timetable_text(timetable); tail_of_timetable_text(text); timetable_of_text(text)",
 }
 METHODS = {("keepers", "Keeper"): "ask(self, name, promise, deadline); drop(self, name)"}
 
