@@ -79,6 +79,41 @@ class Pages(Case):
         self.assertEqual(page_read((0,) * 16), (0, []))
         self.assertEqual(page_read([0] * 65536), (0, []))
 
+    def test_lists_too_short_and_too_long(self):
+        for many in (0, 1, 15, 65537, 70000):
+            for thing in ([0] * many, (0,) * many):
+                self.assertIsNone(page_read(thing))
+        for many in (15, 65537):
+            for odd in (True, False, 256, -1, None, 0.0):
+                for place in (0, many // 2, many - 1):
+                    row = [0] * many
+                    row[place] = odd
+                    self.assertIsNone(page_read(row))
+
+    def test_least_and_greatest_room(self):
+        for room in (16, 65536):
+            for number in (0, 7, TOP):
+                page = page_bytes(room, number, [])
+                self.assertEqual(page, plain_page(room, number, []))
+                self.assertEqual(page_read(page), (number, []))
+                self.assertEqual(page_read(list(page)), (number, []))
+                for odd in (True, False, 256, -1, None, 0.0, 1.0, "0", 10 ** 30, 1):
+                    for place in (0, 1, 4, 5, room // 2, room - 5, room - 2, room - 1):
+                        row = list(page)
+                        row[place] = odd
+                        # It is one only if what was put there was there.
+                        wanted = (number, []) if type(odd) is int and page[place] == odd else None
+                        self.assertEqual(page_read(row), wanted)
+
+    def test_odd_ones_within_bookings(self):
+        page = page_bytes(65536, 256, [("ab", A, 1), ("b", Curve([0] * 399 + [1], 1, 0), 256)])
+        self.assertEqual(page_read(page)[0], 256)
+        for place in list(range(0, 60, 1)) + [1000, 1600, 1660, 1700, 65531, 65533, 65535]:
+            for odd in (bool(page[place]), float(page[place]), page[place] + 256, page[place] - 256, None):
+                row = list(page)
+                row[place] = odd
+                self.assertIsNone(page_read(row))
+
     def test_each_byte_counts(self):
         page = list(page_bytes(120, 5, [("ab", A, 3), ("c", Curve([1, 2, None], 1, 0), 2)]))
         for place in range(120):

@@ -1,13 +1,15 @@
 """Pages: bookings written as bytes, with a number at both ends."""
 
-from worstwait.bookings import MOST_BOOKINGS, by_names, is_bookings, need_bookings
+from worstwait.bookings import MOST_BOOKINGS, by_names, is_booking, need_bookings
 from worstwait.curves import MOST_GIVEN, Curve
 from worstwait.errors import BadCurve, TooMany
-from worstwait.kinds import is_from, is_list, need_number
+from worstwait.kinds import is_list, is_number, need_number
 
 LEAST_ROOM = 16
 MOST_ROOM = 65536
 MOST_NUMBER = 2 ** 32 - 1
+# How many bytes the first number and bookings take at most.
+MOST_USED = 5 + 12 * (22 + 4 * 400)
 
 
 def page_bytes(room, number, bookings):
@@ -53,68 +55,104 @@ def booking_bytes(booking):
 
 
 class Reader:
-    """Reads a page byte by byte; short is set once it ends too soon."""
+    """Reads a page of bytes; short is set once it ends too soon."""
 
     def __init__(self, page):
         self.page = page
         self.place = 0
         self.short = False
 
-    def take(self, many):
-        """The number in the next so many bytes, the lowest one first."""
+    def cut(self, many):
+        """The list of the next so many bytes."""
         told = self.page[self.place:self.place + many]
         if len(told) < many:
             self.short = True
         self.place += many
+        return told
+
+    def take(self, many):
+        """The number in the next so many bytes, the lowest one first."""
         number = 0
-        for one in told[::-1]:
+        for one in self.cut(many)[::-1]:
             number = number * 256 + one
         return number
+
+    def take_all(self, many):
+        """So many numbers, each in the next four bytes, the lowest one first."""
+        told = self.cut(4 * many)
+        low = [one + 256 * two for one, two in zip(told[0::4], told[1::4])]
+        high = [one + 256 * two for one, two in zip(told[2::4], told[3::4])]
+        return [one + 65536 * two for one, two in zip(low, high)]
+
+
+def are_numbers(row):
+    """Whether each one of a list is a number."""
+    # Nearly always none is left to be asked in full, and pages are long.
+    return all([is_number(one) for one in row if type(one) is not int])
 
 
 def is_bytes(thing):
     """Whether it is a list of bytes, numbers from 0 to 255."""
-    return is_list(thing) and all([is_from(one, 0, 255) for one in thing])
+    if not is_list(thing) or not are_numbers(thing):
+        return False
+    return not thing or (min(thing) >= 0 and max(thing) <= 255)
 
 
 def page_read(thing):
     """The pair of the number and the bookings of a page; None if it is none."""
-    if not is_bytes(thing) or not LEAST_ROOM <= len(thing) <= MOST_ROOM:
+    if not is_list(thing) or not LEAST_ROOM <= len(thing) <= MOST_ROOM:
         return None
-    reader = Reader(list(thing))
+    page = list(thing)
+    # Behind what bookings can take there are zeros and the number alone.
+    if not are_numbers(page) or not is_bytes(page[:MOST_USED]):
+        return None
+    reader = Reader(page)
     number = reader.take(4)
-    many = reader.take(1)
-    if many > MOST_BOOKINGS:
+    bookings = bookings_read(reader)
+    if bookings is None or reader.place + 4 > len(page):
         return None
-    bookings = []
-    for _ in range(many):
-        booking = booking_read(reader)
-        if booking is None:
-            return None
-        bookings.append(booking)
-    # What is read loosely here is a page only if it is written just so.
-    if not is_bookings(bookings) or written(len(thing), number, bookings) != tuple(thing):
+    if page[reader.place:-4] != [0] * (len(page) - reader.place - 4):
+        return None
+    if page[-4:] != low_first(number, 4)[::-1]:
         return None
     return number, bookings
 
 
+def bookings_read(reader):
+    """The bookings that come next, by ascending names; None if they can't be read."""
+    many = reader.take(1)
+    if many > MOST_BOOKINGS:
+        return None
+    told = []
+    for _ in range(many):
+        booking = booking_read(reader)
+        if booking is None or (told and told[-1][0] >= booking[0]):
+            return None
+        told.append(booking)
+    return told
+
+
 def booking_read(reader):
-    """The booking that comes next; None if none can be read."""
-    name = word_read([reader.take(1) for _ in range(reader.take(1))])
+    """The booking that comes next; None if none can be read that is written just so."""
+    name = word_read(reader.cut(reader.take(1)))
     deadline = reader.take(2)
     many = reader.take(2)
     period = reader.take(1)
     growth = reader.take(4)
-    if reader.short or many > MOST_GIVEN:
+    if many > MOST_GIVEN:
         return None
-    start = [reader.take(4) for _ in range(many)]
+    start = [None if one == MOST_NUMBER else one for one in reader.take_all(many)]
     if reader.short:
         return None
     try:
-        promise = Curve([None if one == MOST_NUMBER else one for one in start], period, growth)
+        promise = Curve(start, period, growth)
     except BadCurve:
         return None
-    return name, promise, deadline
+    if (promise.start, promise.period, promise.growth) != (tuple(start), period, growth):
+        # Pages tell curves in their least forms alone.
+        return None
+    booking = name, promise, deadline
+    return booking if is_booking(booking) else None
 
 
 def word_read(told):
