@@ -3,7 +3,7 @@
 from math import gcd
 
 from worstwait.errors import BadCurve, TooMany
-from worstwait.kinds import is_from, is_list, need_number
+from worstwait.kinds import are_numbers, is_from, is_list, need_number
 
 # How great values and growths that are handed in may be, and how many values
 # the start of a curve that is handed in, or made, may have.
@@ -41,9 +41,10 @@ def is_start(thing):
     """Whether it is a list of 1 to 400 values that never fall."""
     if not is_list(thing) or not 1 <= len(thing) <= MOST_GIVEN:
         return False
-    if not all([one is None or is_from(one, 0, MOST) for one in thing]):
+    numbers = [one for one in thing if one is not None]
+    if not are_numbers(numbers) or None in thing[:len(numbers)] or sorted(numbers) != numbers:
         return False
-    return not any([is_above(one, two) for one, two in zip(thing, thing[1:])])
+    return not numbers or (numbers[0] >= 0 and numbers[-1] <= MOST)
 
 
 def falls_behind(start, period, growth):

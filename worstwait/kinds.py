@@ -8,6 +8,12 @@ def is_number(thing):
     return isinstance(thing, int) and not isinstance(thing, bool)
 
 
+def are_numbers(row):
+    """Whether each one of a list is a number."""
+    # Nearly always none is left to be asked in full, and rows are long.
+    return all([is_number(one) for one in row if type(one) is not int])
+
+
 def is_from(thing, low, high):
     """Whether it is a number from low to high."""
     return is_number(thing) and low <= thing <= high

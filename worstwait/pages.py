@@ -3,7 +3,7 @@
 from worstwait.bookings import MOST_BOOKINGS, by_names, is_booking, need_bookings
 from worstwait.curves import MOST_GIVEN, Curve
 from worstwait.errors import BadCurve, TooMany
-from worstwait.kinds import is_list, is_number, need_number
+from worstwait.kinds import are_numbers, is_list, need_number
 
 LEAST_ROOM = 16
 MOST_ROOM = 65536
@@ -85,17 +85,14 @@ class Reader:
         return [one + 65536 * two for one, two in zip(low, high)]
 
 
-def are_numbers(row):
-    """Whether each one of a list is a number."""
-    # Nearly always none is left to be asked in full, and pages are long.
-    return all([is_number(one) for one in row if type(one) is not int])
+def are_low(row):
+    """Whether no number of a list is below 0 or above 255."""
+    return not row or (min(row) >= 0 and max(row) <= 255)
 
 
 def is_bytes(thing):
     """Whether it is a list of bytes, numbers from 0 to 255."""
-    if not is_list(thing) or not are_numbers(thing):
-        return False
-    return not thing or (min(thing) >= 0 and max(thing) <= 255)
+    return is_list(thing) and are_numbers(thing) and are_low(thing)
 
 
 def page_read(thing):
@@ -104,7 +101,7 @@ def page_read(thing):
         return None
     page = list(thing)
     # Behind what bookings can take there are zeros and the number alone.
-    if not are_numbers(page) or not is_bytes(page[:MOST_USED]):
+    if not are_numbers(page) or not are_low(page[:MOST_USED]):
         return None
     reader = Reader(page)
     number = reader.take(4)

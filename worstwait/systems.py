@@ -91,10 +91,11 @@ def greatest_row(bases, arcs):
     for joint in range(len(bases) - 1, 0, -1):
         sources = [source for source in range(joint) if (joint, source) in ways]
         told = [(source, ways[joint, source]) for source in sources]
-        passed_joints.append((joint, left[joint], told, loop_of(ways, joint)))
-        left, ways = passed_over(left, ways, joint)
+        loop = loop_of(ways, joint)
+        passed_joints.append((left[joint], told, loop))
+        left, ways = passed_over(left, ways, joint, loop)
     row = [folding(loop_of(ways, 0), left[0])]
-    for joint, base, told, loop in passed_joints[::-1]:
+    for base, told, loop in passed_joints[::-1]:
         for source, curve in told:
             base = least_of(base, folding(curve, row[source]))
         row.append(folding(loop, base))
@@ -113,9 +114,11 @@ def loop_of(ways, joint):
     return unit()
 
 
-def passed_over(left, ways, joint):
-    """The bases and the ways of all joints but one, what goes through that one put in."""
-    loop = loop_of(ways, joint)
+def passed_over(left, ways, joint, loop):
+    """The bases and the ways of all joints but one, what goes through that one put in.
+
+    loop is the closure of the curve of its arc to itself.
+    """
     others = [place for place in left if place != joint]
     bases = {to: left[to] for to in others}
     told = {(to, source): ways[to, source] for to, source in ways if joint not in (to, source)}

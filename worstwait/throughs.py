@@ -4,7 +4,7 @@ from worstwait.curves import MOST, flat, made
 from worstwait.errors import BadSystem
 from worstwait.foldings import unit
 from worstwait.kinds import need_number
-from worstwait.systems import System, greatest_row, need_system, passed_over, ways_of
+from worstwait.systems import System, greatest_row, loop_of, need_system, passed_over, ways_of
 
 
 def need_joint(system, thing, part):
@@ -35,7 +35,8 @@ def without(system, joint):
     if len(system.bases) == 1:
         raise BadSystem("bases")
     left = {place: base for place, base in enumerate(system.bases)}
-    bases, ways = passed_over(left, ways_of(system.arcs), joint)
+    ways = ways_of(system.arcs)
+    bases, ways = passed_over(left, ways, joint, loop_of(ways, joint))
     others = list(bases)
     arcs = [(others.index(to), others.index(source), ways[to, source]) for to, source in ways]
     return System([bases[place] for place in others], arcs)
