@@ -5,6 +5,7 @@ nothing is wrong up to where it breaks off.
 """
 
 END = "$"
+LETTERS = "abcdefghijklmnopqrstuvwxyz"
 BIG = 10 ** 9
 FUNCTIONS = {"least": None, "most": None, "fold": None, "unfold": None, "close": 0,
              "later": 4000, "sooner": 4000, "raised": BIG, "times": BIG}
@@ -163,6 +164,52 @@ class Reader:
             self.expression(0, 0)
             self.word("within")
             self.number(0, 300)
+
+    def word_above(self, last):
+        """A word above the last one: a beginning is one as long as some word of up to 12 letters is above."""
+        if self.next() not in LETTERS:
+            raise Wrong(self.at)
+        return self.token(LETTERS, lambda run: len(run) <= 12 and (run + "z" * 12)[:12] > last,
+                          lambda run: run > last)
+
+    def line(self, words):
+        """The first word of a line, one of these; a newline alone is no beginning without one."""
+        if not words:
+            raise Wrong(self.at)
+        self.sign("\n")
+        return self.word(*words)
+
+    def net(self):
+        self.word("net")
+        servers, flows = [], []
+        while self.next() != END or not servers:
+            words = []
+            if not flows and len(servers) < 8 and "z" * 12 not in servers:
+                words.append("server")
+            if servers and len(flows) < 8 and "z" * 12 not in flows:
+                words.append("flow")
+            if self.line(words) == "server":
+                servers.append(self.word_above(servers[-1] if servers else ""))
+                self.word("gives")
+                self.terms = 0
+                self.expression(0, 0)
+            else:
+                flows.append(self.word_above(flows[-1] if flows else ""))
+                self.word("keeps")
+                self.terms = 0
+                self.expression(0, 0)
+                self.word("rank")
+                self.number(0, 99)
+                self.word("through")
+                self.path(servers)
+
+    def path(self, servers):
+        path = []
+        while not path or self.next() not in END + "\n":
+            left = [word for word in servers if word not in path]
+            if len(path) == 6 or not left:
+                raise Wrong(self.at)
+            path.append(self.word(*left))
 
     def timetable(self):
         self.word("timetable")

@@ -58,6 +58,19 @@ ROWS = {
     "curvetexts": "curve_text(curve); tail_of_curve_text(text); curve_of_text(text)",
     "bookingtexts": "bookings_text(bookings); tail_of_bookings_text(text); bookings_of_text(text); "
                     "timetable_text(timetable); tail_of_timetable_text(text); timetable_of_text(text)",
+    "measures": "measured(traffic); measured_all(traffics)",
+    "nettexts": "net_text(net); tail_of_net_text(text); net_of_text(text)",
+    "ways": "most_above(curve, other); longest_across(curve, other)",
+    "bounds": "longest_wait(promise, service); greatest_heap(promise, service); wait_run(promise, service); "
+              "heap_run(promise, service); goes_out(promise, service); out_run(promise, service, beats)",
+    "gatewaits": "gates_wait(gates, promise); gates_heap(gates, promise)",
+    "loops": "loop_gap(promise, system, to, joint); loop_above(promise, system, to, joint, number)",
+    "reshapings": "shaping_cost(promise, shaper, server)",
+    "serverlines": "in_line(services); waits_in_line(promise, services)",
+    "netbounds": "door_of(net, flow, server); left_of(net, flow, server); stop_bounds(net, flow, server); "
+                 "whole_wait(net, flow); net_bounds(net); server_heap(net, server)",
+    "changes": "is_change(thing); changed(net, change); spread(net, change); touched(net, change); "
+               "unlike_bounds(net, other)",
 }
 METHODS = {("keepers", "Keeper"): "ask(self, name, promise, deadline); drop(self, name)"}
 

@@ -5,9 +5,11 @@ import unittest
 from worstwait.curves import Curve, flat, late, line
 from worstwait.errors import BadNet, BadPlay
 from worstwait.joined import later
+from worstwait.netbounds import net_bounds, server_heap
 from worstwait.netplays import is_lawful, met, net_played
 from worstwait.nets import Net, sequence
 from tests.plain import Case, Lots, numbers, some_curve
+from tests.test_netbounds import small_net
 from tests.test_nets import NO_NETS, some_net
 
 
@@ -55,6 +57,58 @@ def some_play(lots, net, beats):
     comes = {word: [lots.of([0, 0, 1, lots.below(5)]) for _ in range(beats)] for word, _, _, _ in net.flows}
     gifts = {word: [lots.below(lots.of([4, 7])) for _ in range(beats)] for word, _ in net.servers}
     return comes, gifts
+
+
+def lawful_play(lots, net, beats):
+    """A play that is lawful unless what comes late breaks a promise: servers give no more than they have to."""
+    comes, gifts = {}, {word: [0] * beats for word, _ in net.servers}
+    for word, promise, _, _ in net.flows:
+        row, most = [0], numbers(promise, beats + 1)
+        for t in range(1, beats + 1):
+            room = min([most[t - s] + row[s] for s in range(t)] + [row[-1] + 9]) - row[-1]
+            row.append(row[-1] + lots.of([room, room, lots.below(room + 1)]))
+        comes[word] = [two - one for one, two in zip(row, row[1:])]
+    for beat in range(beats):
+        for word in sequence(net):
+            while gifts[word][beat] < 100 and not lawful_up_to(net, comes, gifts, word, beat):
+                gifts[word][beat] += 1
+    return comes, gifts
+
+
+def lawful_up_to(net, comes, gifts, server, beat):
+    """Whether a server gives what it has to in all stretches up to a beat."""
+    letters = plain_play(net, comes, gifts)
+    least = numbers(dict(net.servers)[server], beat + 2)
+    for s in range(beat, -1, -1):
+        if not any(one["came"].get(server, 99) <= s < one["left"].get(server, 99) for one in letters):
+            return True
+        if sum(gifts[server][s:beat + 1]) < least[beat + 1 - s]:
+            return False
+    return True
+
+
+class Bounds(Case):
+    def test_what_is_met_is_never_above_the_bounds(self):
+        lots = Lots(154)
+        tight = 0
+        for _ in range(60):
+            net, beats = small_net(lots, 3), 1 + lots.below(6)
+            comes, gifts = lawful_play(lots, net, beats)
+            if not is_lawful(net, comes, gifts):
+                continue
+            letters, bounds = plain_play(net, comes, gifts), net_bounds(net)
+            for word, (whole, rows) in met(net, comes, gifts).items():
+                self.assertTrue(bounds[word][0] is None or whole <= bounds[word][0])
+                for (server, wait, heap), (_, most_wait, most_heap) in zip(rows, bounds[word][1]):
+                    self.assertTrue(most_wait is None or wait <= most_wait)
+                    self.assertTrue(most_heap is None or heap <= most_heap)
+                    tight += most_heap is not None and heap == most_heap > 0
+            for server, _ in net.servers:
+                most = server_heap(net, server)
+                for beat in range(beats):
+                    heap = sum(one["came"].get(server, 99) <= beat < one["left"].get(server, 99) for one in letters)
+                    self.assertTrue(most is None or heap <= most)
+        self.assertGreater(tight, 10)
 
 
 class Plays(Case):

@@ -2,9 +2,14 @@
 
 import unittest
 
+from worstwait.bounds import longest_wait
 from worstwait.errors import BadParcels, BadStation
+from worstwait.gates import gate_curve
+from worstwait.measures import measured
 from worstwait.parcelplays import played_parcels
+from worstwait.parcels import parcel_service
 from worstwait.plays import letter_waits
+from worstwait.ranks import left_by_rank
 from worstwait.stations import Station
 from tests.plain import Case, Lots
 
@@ -67,6 +72,26 @@ class Parcels(Case):
         self.assertEqual(played_parcels((0, 5), ([(0, 2), (0, 2)], [(0, 2)])), ((1, 1), (3,)))
         self.assertEqual(played_parcels([1], [[], []]), ((), ()))
         self.assertEqual(played_parcels([1000], [[(59, 60)]]), ((59,),))
+
+    def test_no_parcel_waits_longer_than_told(self):
+        lots = Lots(113)
+        tight = 0
+        for _ in range(150):
+            speeds = [lots.below(4) for _ in range(1 + lots.below(4))]
+            speeds = speeds if any(speeds) else [1]
+            flows = some_parcels(lots, lots.of([1, 3, 5]))
+            rows = [[sum(size for one, size in flow if one == beat) for beat in range(10)] for flow in flows]
+            promises = [measured(row) for row in rows]
+            phase = lots.below(len(speeds))
+            ends = played_parcels(speeds[phase:] + speeds[:phase], flows)
+            for place, (flow, told) in enumerate(zip(flows, ends)):
+                most = max([1] + [size for other in flows[place + 1:] for _, size in other])
+                service = parcel_service(gate_curve(tuple(speeds)), most)
+                found = longest_wait(promises[place], left_by_rank(service, promises[:place]))
+                for (beat, _), end in zip(flow, told):
+                    self.assertTrue(found is None or end - beat <= found[0])
+                    tight += found is not None and end - beat == found[0]
+        self.assertGreater(tight, 10)
 
     def test_limits(self):
         self.assertEqual(played_parcels([0, 1], [[(0, 60)] * 33 + [(0, 20)]])[0][-1], 3999)

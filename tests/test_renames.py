@@ -5,9 +5,11 @@ from itertools import permutations
 
 from worstwait.curves import flat, late, line
 from worstwait.errors import BadNames, BadNet
+from worstwait.netbounds import net_bounds, server_heap
 from worstwait.nets import Net
 from worstwait.renames import net_renaming, renamed_net
 from tests.plain import Case, Lots
+from tests.test_netbounds import small_net
 from tests.test_nets import G, NO_NETS, P, some_net
 
 
@@ -55,6 +57,19 @@ class Renamed(Case):
             self.assertEqual(told, plain_renamed(net, servers, flows))
             back = {new: old for old, new in servers.items()}, {new: old for old, new in flows.items()}
             self.assertEqual(renamed_net(told, *back), net)
+
+    def test_bounds_of_renamed_nets(self):
+        lots = Lots(162)
+        for _ in range(60):
+            net = small_net(lots)
+            servers, flows = some_renaming(lots, net)
+            told = {flows[word]: (whole, tuple((servers[server], wait, heap) for server, wait, heap in rows))
+                    for word, (whole, rows) in net_bounds(net).items()}
+            renamed = renamed_net(net, servers, flows)
+            self.assertEqual(net_bounds(renamed), told)
+            self.assertEqual(list(net_bounds(renamed)), sorted(told))
+            for word, new in servers.items():
+                self.assertEqual(server_heap(renamed, new), server_heap(net, word))
 
     def test_refuses(self):
         net = Net((("a", G), ("b", G)), (("x", P, ("a", "b"), 0), ("y", P, ("a",), 0)))

@@ -3,12 +3,15 @@
 import unittest
 from itertools import permutations
 
+from worstwait.bounds import longest_wait
 from worstwait.errors import BadStations, BadTraffic
 from worstwait.foldings import folding
 from worstwait.gates import gate_curve
+from worstwait.joined import raised
+from worstwait.measures import measured
+from worstwait.promises import keeps
 from worstwait.stationlines import line_waits, played_line
-from worstwait.traffics import curve_of
-from tests.plain import Case, Lots, numbers
+from tests.plain import Case, Lots
 
 NO_SPEEDS = ([], (), [0], [0, 0], [-1, 2], [1001], [True], [1, False], ["1"], [1.0], None, 1, "12", {1: 1}, [1] * 61)
 
@@ -73,19 +76,24 @@ class Lines(Case):
 
     def test_no_letter_waits_longer_than_promised(self):
         lots = Lots(262)
-        for _ in range(60):
-            lines = [some_speeds(lots) for _ in range(1 + lots.below(3))]
+        tight = 0
+        for _ in range(150):
+            lines = [some_speeds(lots) for _ in range(1 + lots.below(4))]
             traffic = [lots.below(3) for _ in range(1 + lots.below(6))]
-            # The most letters of any so many beats in a row are a promise that the traffic keeps.
-            row = numbers(curve_of(traffic), 400)
-            most = [max(row[s + d] - row[s] for s in range(len(traffic) + 1)) for d in range(300)]
+            # What is measured is a promise that the traffic keeps; so is all above it.
+            promise = measured(traffic)
+            if lots.below(2):
+                promise = raised(promise, lots.below(3))
+            self.assertTrue(keeps(traffic, promise))
             server = gate_curve(tuple(lines[0]))
             for speeds in lines[1:]:
                 server = folding(server, gate_curve(tuple(speeds)))
-            gives = numbers(server, 300)
-            longest = max(next(w for w in range(300) if gives[t + w] >= most[t]) for t in range(20))
+            longest = longest_wait(promise, server)[0]
             turned = [speeds[k:] + speeds[:k] for speeds in lines for k in [lots.below(len(speeds))]]
-            self.assertLessEqual(max(line_waits(turned, traffic), default=0), longest)
+            found = max(line_waits(turned, traffic), default=0)
+            self.assertLessEqual(found, longest)
+            tight += found == longest
+        self.assertGreater(tight, 10)
 
     def test_steady_stations_in_another_sequence(self):
         lots = Lots(263)

@@ -77,6 +77,53 @@ def plain_still(system):
     return tuple(told)
 
 
+def small_row(lots):
+    told = [lots.of([0, lots.below(13)])]
+    while len(told) < 1 + lots.below(4):
+        told.append(told[-1] + lots.below(13 - told[-1]))
+    return told
+
+
+def small_curve(lots):
+    """At most 4 values, numbers and growths of at most 12."""
+    told = small_row(lots)
+    if lots.below(3) == 0:
+        return Curve(told[1:] + [None], 1, 0)
+    period = 1 + lots.below(len(told))
+    least = told[-1] - told[len(told) - period]
+    return Curve(told, period, least + lots.below(13 - least))
+
+
+def of_period_1(lots):
+    told = small_row(lots)
+    return Curve(told[1:] + [None], 1, 0) if lots.below(3) == 0 else Curve(told, 1, lots.below(13))
+
+
+def flattening(lots):
+    """A shift by 0 or 1 beats, or what never rises by more than at the beat ahead."""
+    if lots.below(3) == 0:
+        return shift(lots.below(4), lots.below(2))
+    told, step = [lots.below(4)], 9
+    for _ in range(lots.below(4)):
+        step = lots.below(min(step, 12 - told[-1]) + 1)
+        told.append(told[-1] + step)
+    return Curve(told, 1, lots.below(step + 1))
+
+
+def small_system(lots, turn):
+    """A system of one of the three kinds of which Part 5 says that TooMany does not come."""
+    def pairs(many, curve):
+        return [(to, source, curve()) for to in range(many) for source in range(many) if lots.below(4)]
+
+    many = 1 + lots.below(4)
+    if turn % 3 == 0:
+        return System([small_curve(lots)], pairs(1, lambda: small_curve(lots)))
+    if turn % 3 == 1:
+        return System([small_curve(lots), small_curve(lots)],
+                      pairs(2, lambda: shift(lots.below(13), lots.below(3))))
+    return System([of_period_1(lots) for _ in range(many)], pairs(many, lambda: flattening(lots)))
+
+
 class Systems(Case):
     def test_attributes(self):
         one, two, f = flat(1), line(1, 2, 3), late(1, 1, 1)
@@ -231,45 +278,11 @@ class Limits(Case):
     def test_small_systems_are_told(self):
         """Where [50] ff. say that TooMany does not come."""
         lots = Lots(246)
-
-        def row(longest):
-            told = [lots.of([0, lots.below(13)])]
-            while len(told) < 1 + lots.below(longest):
-                told.append(told[-1] + lots.below(13 - told[-1]))
-            return told
-
-        def small():
-            told = row(4)
-            if lots.below(3) == 0:
-                return Curve(told[1:] + [None], 1, 0)
-            period = 1 + lots.below(len(told))
-            least = told[-1] - told[len(told) - period]
-            return Curve(told, period, least + lots.below(13 - least))
-
-        def of_period_1():
-            told = row(4)
-            return Curve(told[1:] + [None], 1, 0) if lots.below(3) == 0 else Curve(told, 1, lots.below(13))
-
-        def flattening():
-            if lots.below(3) == 0:
-                return shift(lots.below(4), lots.below(2))
-            told, step = [lots.below(4)], 9
-            for _ in range(lots.below(4)):
-                step = lots.below(min(step, 12 - told[-1]) + 1)
-                told.append(told[-1] + step)
-            return Curve(told, 1, lots.below(step + 1))
-
-        def pairs(many, curve):
-            return [(to, source, curve()) for to in range(many) for source in range(many) if lots.below(4)]
-
         for turn in range(150):
-            many = 1 + lots.below(4)
-            system = [System([small()], pairs(1, small)),
-                      System([small(), small()], pairs(2, lambda: shift(lots.below(13), lots.below(3)))),
-                      System([of_period_1() for _ in range(many)], pairs(many, flattening))][turn % 3]
+            system = small_system(lots, turn)
             for told in (solved(system), least_solved(system)):
                 self.assertTrue(is_solution(system, told))
-                told[lots.below(len(told))] = small()
+                told[lots.below(len(told))] = small_curve(lots)
                 is_solution(system, told)
             is_one(system)
 

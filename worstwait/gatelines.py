@@ -106,7 +106,11 @@ def slow_phase(gates, beats):
     """The least phase at which the fewest letters go out in so many beats."""
     need_gates(gates)
     need_number(beats, 0, MOST_BEATS, "beats")
-    step = short_round(gates)
+    return slowest_phase(gates, beats, short_round(gates))
+
+
+def slowest_phase(gates, beats, step):
+    """What slow_phase tells, of any number of beats; step is the gates' round."""
     # Whole rounds behind the beat from which on all goes on by rounds tell nothing.
     settled = settled_from(gates, step)
     if beats > settled:

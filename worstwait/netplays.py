@@ -123,7 +123,7 @@ def gives_enough(heaps, gifts, curve):
     return True
 
 
-def longest_wait(came, gone):
+def longest_met(came, gone):
     """The longest wait of letters that leave in the sequence in which they came.
 
     What has not left counts as leaving in the beat behind the last one.
@@ -146,9 +146,9 @@ def met(net, comes, gifts):
     for word, promise, path, rank in net.flows:
         row = []
         for server in path:
-            wait = longest_wait(play.came[word, server], play.gone[word, server])
+            wait = longest_met(play.came[word, server], play.gone[word, server])
             heap = max([play.heap(word, server, beat) for beat in range(play.beats)])
             row.append((server, wait, heap))
-        whole = longest_wait(comes[word], play.gone[word, path[-1]])
+        whole = longest_met(comes[word], play.gone[word, path[-1]])
         told[word] = whole, tuple(row)
     return told

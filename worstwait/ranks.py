@@ -57,7 +57,11 @@ def left_by_rank(service, above):
     """What is left of a service to a flow behind others that keep these promises."""
     need_curve(service)
     need_above(above)
-    closures = [closure(promise) for promise in above]
+    return left_behind(service, [closure(promise) for promise in above])
+
+
+def left_behind(service, closures):
+    """What left_by_rank tells, of others that keep these closures."""
     if has_none(service):
         end = max(1, first_none(service))
         return made(running_most(spare_ahead(service, closures, end)) + [None], 1, 0)

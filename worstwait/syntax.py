@@ -6,7 +6,9 @@ within the two bounds beside it, "name" a word of its own. "term" wants an
 expression without a sum, "more" maybe a plus and another one, "flat" a value,
 "value" the first value of a row and "values" what comes behind one, "period"
 and "growth" how the row goes on. "lines" and "table" want further lines, and
-numbers of a timetable.
+numbers of a timetable. In nets "server" and "flow" want a word above the last
+one, "stop" a server of the path, "stops" further ones, and "servers" further
+lines, "line" one of them.
 """
 
 from worstwait.curves import MOST, MOST_GIVEN
@@ -17,13 +19,20 @@ MOST_OPENED = 12
 MOST_TERMS = 20
 MOST_LINES = 12
 MOST_TABLE = 60
+MOST_SERVERS = 8
+MOST_FLOWS = 8
+MOST_PATH = 6
 LONGEST = 12
 LETTERS = "abcdefghijklmnopqrstuvwxyz"
 OF_TWO = ("least", "most", "fold", "unfold")
 OF_NUMBER = {"later": 4000, "sooner": 4000, "raised": 10 ** 9, "times": 10 ** 9}
-ENDS = {"term": "[0]", "more": "", "flat": "0", "value": "0]", "values": "]", "period": "1", "lines": ""}
+ENDS = {"term": "[0]", "more": "", "flat": "0", "value": "0]", "values": "]", "period": "1", "lines": "",
+        "servers": "", "stops": ""}
 CLOSED = ("sign", ")")
 TERM = ("more",), ("term",)
+SERVER = ("servers",), ("more",), ("term",), ("word", "gives"), ("server",)
+FLOW = (("stop",), ("word", "through"), ("number", 0, 99), ("word", "rank"), ("more",), ("term",),
+        ("word", "keeps"), ("flow",))
 
 
 class Syntax:
@@ -31,7 +40,7 @@ class Syntax:
 
     terms tells how many rows and the like the expression has so far, row the
     row that is read, gap by how much it has to grow at least, names the words
-    of the lines.
+    of the lines; in nets servers, flows and path are those told so far.
     """
 
     def __init__(self, wanted):
@@ -40,6 +49,9 @@ class Syntax:
         self.row = []
         self.gap = 0
         self.names = []
+        self.servers = []
+        self.flows = []
+        self.path = []
 
     def twin(self):
         """Another one that stands at the same place."""
@@ -48,6 +60,9 @@ class Syntax:
         other.row = list(self.row)
         other.gap = self.gap
         other.names = list(self.names)
+        other.servers = list(self.servers)
+        other.flows = list(self.flows)
+        other.path = list(self.path)
         return other
 
     def next_ones(self):
@@ -75,7 +90,38 @@ class Syntax:
             return told + [";", "]"] if kind == "values" else told
         if kind == "lines" and len(self.names) < MOST_LINES:
             return ["\n"]
+        if kind == "servers" and self.lines_now():
+            return ["\n"]
+        if kind == "line":
+            return self.lines_now()
+        if kind in ("stop", "stops"):
+            return self.stops_now(kind)
         return []
+
+    def lines_now(self):
+        """With which words a further line of a net may begin."""
+        told = []
+        if not self.flows and len(self.servers) < MOST_SERVERS and self.has_above("server"):
+            told.append("server")
+        if self.servers and len(self.flows) < MOST_FLOWS and self.has_above("flow"):
+            told.append("flow")
+        return told
+
+    def stops_now(self, kind):
+        """The servers that may come next on a path, and behind the first one the end of the line."""
+        told = []
+        if len(self.path) < MOST_PATH:
+            told = [word for word in self.servers if word not in self.path]
+        return told + ["\n"] if kind == "stops" and self.lines_now() else told
+
+    def last_word(self, kind):
+        """The last word told so far of servers or of flows, "" ahead of the first one."""
+        words = self.servers if kind == "server" else self.flows
+        return words[-1] if words else ""
+
+    def has_above(self, kind):
+        """Whether a further word of a server or of a flow may come."""
+        return word_above("", self.last_word(kind)) is not None
 
     def spare_terms(self):
         """How many rows and the like may still come beyond those that have to."""
@@ -116,6 +162,8 @@ class Syntax:
             return bounds[0] <= int(token) <= bounds[1]
         if want[0] == "name":
             return is_word(token) and token not in self.names
+        if want[0] in ("server", "flow"):
+            return is_word(token) and token > self.last_word(want[0])
         return token in self.tokens_for(want)
 
     def fits(self, token):
@@ -138,6 +186,12 @@ class Syntax:
             self.gap = self.row[-1] - self.row[len(self.row) - int(token)]
         elif kind == "name":
             self.names.append(token)
+        elif kind == "server":
+            self.servers.append(token)
+        elif kind == "flow":
+            self.flows.append(token)
+        elif kind in ("servers", "line", "stop", "stops"):
+            self.go_on_in_net(kind, token)
         elif kind == "table":
             self.row.append(int(token))
             self.wanted.append(want)
@@ -181,6 +235,18 @@ class Syntax:
             self.gap = 0
             self.wanted.extend([("sign", "]"), ("growth",), ("word", "by"), ("period",)])
 
+    def go_on_in_net(self, kind, token):
+        """What has to come behind a newline, at the beginning of a line, and behind a word of a path."""
+        if token == "\n":
+            self.terms = 0
+            self.path = []
+            self.wanted.append(("line",))
+        elif kind == "line":
+            self.wanted.extend(SERVER if token == "server" else FLOW)
+        else:
+            self.path.append(token)
+            self.wanted.append(("stops",))
+
     def may_end(self):
         """Whether nothing more has to come."""
         return self.ending("") == ""
@@ -204,9 +270,25 @@ class Syntax:
             return want[1]
         if kind == "name":
             return self.name_from("")
+        if kind in ("server", "flow"):
+            return word_above("", self.last_word(kind))
+        if kind == "stop":
+            return shortest(self.stops_now(kind))
+        if kind == "line":
+            return self.line_for(want)
         if kind == "table" and self.row:
             return ""
         return "0" if kind == "table" else str(self.bounds_for(want)[0])
+
+    def line_for(self, want):
+        """The shortest line, of several the least one."""
+        told = []
+        for token in self.lines_now():
+            other = self.twin()
+            other.wanted = [want]
+            other.take(token)
+            told.append(token + other.ending(token[-1]))
+        return shortest(told)
 
     def name_from(self, part):
         """The shortest name, of several the least one, that begins with part; None without one."""
@@ -222,8 +304,13 @@ class Syntax:
         for want in self.next_ones():
             if is_letter(part[0]):
                 told.extend([token for token in self.tokens_for(want) if token.startswith(part)])
-                if want[0] == "name" and self.name_from(part) is not None:
-                    told.append(self.name_from(part))
+                name = None
+                if want[0] == "name":
+                    name = self.name_from(part)
+                if want[0] in ("server", "flow"):
+                    name = word_above(part, self.last_word(want[0]))
+                if name is not None:
+                    told.append(name)
             elif self.bounds_for(want) is not None:
                 low, high = self.bounds_for(want)
                 # How far a row has to grow hangs on its period, so that each one counts.
@@ -249,7 +336,25 @@ class Syntax:
             other = self.twin()
             other.take(token)
             told.append(token[len(part):] + other.ending(token[-1]))
-        return min(told, key=lambda text: (len(text), text))
+        return shortest(told)
+
+
+def shortest(texts):
+    """The shortest text, of several the least one."""
+    return min(texts, key=lambda text: (len(text), text))
+
+
+def word_above(part, last):
+    """The shortest word, of several the least one, that begins with part and is above last; None without one."""
+    if part > last:
+        return part if is_word(part) else None
+    if not last.startswith(part):
+        return None
+    for many in range(len(part), min(len(last) + 1, LONGEST)):
+        words = [last[:many] + letter for letter in LETTERS if last[:many] + letter > last]
+        if words:
+            return words[0]
+    return None
 
 
 def is_figures(token):
