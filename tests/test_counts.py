@@ -49,6 +49,33 @@ def plain_rests(promise):
     return tuple(rests), tuple(moves)
 
 
+def rows_of_rests(promise, most=400):
+    """As plain_rests, of a closed promise, each rest a row of numbers; the number of rests alone if there are more."""
+    many = len(promise.start) + 1
+    let = numbers(promise, 10 * many)
+
+    def row_behind(traffic):
+        came, told = [0], []
+        for letters in traffic[::-1]:
+            came.append(came[-1] + letters)
+        for d in range(many):
+            told.append(min(let[d + s] - letters for s, letters in enumerate(came)))
+        return tuple(told)
+
+    traffics, moves = [()], []
+    places = {row_behind(()): 0}
+    while len(moves) < len(traffics) <= most:
+        traffic, row = traffics[len(moves)], []
+        for letters in range(row_behind(traffic)[1] + 1):
+            behind = row_behind(traffic + (letters,))
+            if behind not in places:
+                places[behind] = len(traffics)
+                traffics.append(traffic + (letters,))
+            row.append(places[behind])
+        moves.append(tuple(row))
+    return list(places), tuple(moves)
+
+
 class Rests(Case):
     def test_all_in_their_sequence(self):
         lots = Lots(231)
@@ -94,6 +121,43 @@ class Rests(Case):
                            (kept_place, ([],))):
             self.too_many(400, call, line(10, 1, 40), *more)
             self.too_many(400, call, line(8, 1, 50), *more)
+
+
+    def test_near_400_rests(self):
+        for promise, many in ((line(7, 1, 57), 400), (line(19, 1, 21), 400), (line(4, 1, 40), 161)):
+            rows, moves = rows_of_rests(promise)
+            self.assertEqual(len(rows), many)
+            self.assertEqual([tuple(numbers(rest, len(rows[0]))) for rest in all_rests(promise)], rows)
+            self.assertEqual(all_moves(promise), moves)
+            self.assertEqual(count_kept(promise, 2), sum(len(moves[place]) for place in moves[0]))
+            last = count_kept(promise, 60) - 1
+            for place in (0, 1, 10 ** 6, last // 3, last):
+                self.assertEqual(kept_place(promise, kept_at(promise, 60, place)), place)
+            self.assertIsNone(kept_at(promise, 60, last + 1))
+        for promise in (line(8, 1, 50), line(10, 1, 40), line(11, 1, 59)):
+            self.assertGreater(len(rows_of_rests(promise)[0]), 400)
+            for call, more in ((all_rests, ()), (all_moves, ()), (count_kept, (3,)), (kept_at, (3, 0)),
+                               (kept_place, ([1],))):
+                self.too_many(400, call, promise, *more)
+
+    def test_rests_of_all_kinds(self):
+        lots = Lots(234)
+        for _ in range(60):
+            promise = closure(raised(some_curve(lots, 7, 3), lots.below(3)))
+            if promise.start[-1] is None or len(promise.start) > 20 or numbers(promise, 2)[1] > 9:
+                continue
+            rows, moves = rows_of_rests(promise, 60)
+            if len(rows) <= 60:
+                told = all_rests(promise)
+                self.assertEqual([tuple(numbers(rest, len(rows[0]))) for rest in told], rows)
+                self.assertEqual(all_moves(promise), moves)
+                for beats in (0, 1, 5):
+                    self.assertEqual(count_kept(promise, beats), self.plain_count(moves, beats))
+
+    def plain_count(self, moves, beats, place=0):
+        if beats == 0:
+            return 1
+        return sum(self.plain_count(moves, beats - 1, to) for to in moves[place])
 
 
 class Kept(Case):

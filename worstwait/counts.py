@@ -4,7 +4,7 @@ from worstwait.closures import closure
 from worstwait.curves import at, made, need_curve
 from worstwait.errors import BadNumber, BadTraffic, TooMany
 from worstwait.kinds import is_number, need_number
-from worstwait.rests import need_kept, row_behind
+from worstwait.rests import need_kept
 from worstwait.traffics import is_traffic
 
 MOST_LETTERS = 60
@@ -13,7 +13,15 @@ MOST_BEATS = 300
 
 
 class Rests:
-    """All rests of a promise, as rows of the start of its closure, and the moves between them."""
+    """All rests of a promise, as rows of the start of its closure, and the moves between them.
+
+    Rests that are alike but for how many letters are taken from them go over
+    into the same ones behind as many letters in all. kinds has for each such
+    kind of rests a list of the places behind 0, 1, 2 .. letters, None where
+    none is known, and takes for each rest the place of its kind and how many
+    letters are taken. numbers has the places of kinds by what a rest of them
+    is one beat later, with no letters taken.
+    """
 
     def __init__(self, promise):
         first = at(promise, 1)
@@ -22,27 +30,61 @@ class Rests:
         self.closed = closure(promise)
         self.rows = [self.closed.start]
         self.places = {self.closed.start: 0}
-        self.moves = []
-        while len(self.moves) < len(self.rows):
-            self.moves.append(self.places_behind(list(self.rows[len(self.moves)])))
+        self.kinds = []
+        self.numbers = {}
+        self.takes = []
+        while len(self.takes) < len(self.rows):
+            self.go_on(self.rows[len(self.takes)])
 
-    def places_behind(self, row):
-        """The places of the rests behind 0, 1, 2 .. letters, those met first here noted."""
-        told = [self.place_of(row_behind(self.closed, row, 0))]
-        most = (row + [row[len(row) - self.closed.period] + self.closed.growth])[1]
-        for letters in range(1, most + 1):
-            told.append(self.place_of(row_behind(self.closed, row, letters)))
-        return tuple(told)
+    def go_on(self, row):
+        """Note all rests behind the next one, those met first as new ones."""
+        taken = self.closed.start[-1] - row[-1]
+        kind = [one + taken for one in row[1:]]
+        kind.append(row[len(row) - self.closed.period] + self.closed.growth + taken)
+        key = tuple(kind)
+        if key not in self.numbers:
+            self.numbers[key] = len(self.kinds)
+            self.kinds.append([None] * (kind[0] + 1))
+        number = self.numbers[key]
+        places = self.kinds[number]
+        for letters in range(taken, len(places)):
+            if places[letters] is None:
+                places[letters] = self.place_of(kind, letters)
+        self.takes.append((number, taken))
 
-    def place_of(self, row):
-        """The place of a rest, a new one if it was not met yet."""
-        key = tuple(row)
+    def place_of(self, kind, letters):
+        """The place of the rest behind so many letters of a kind, a new one if it was not met yet."""
+        start = self.closed.start
+        key = tuple([one - letters if one - letters < two else two for one, two in zip(kind, start)])
         if key not in self.places:
             if len(self.rows) == MOST_RESTS:
                 raise TooMany(MOST_RESTS)
             self.places[key] = len(self.rows)
             self.rows.append(key)
         return self.places[key]
+
+    def moves(self):
+        """For each rest the places of the rests behind 0, 1, 2 .. letters more."""
+        return [tuple(self.kinds[number][taken:]) for number, taken in self.takes]
+
+    def counts(self, beats):
+        """For 0, 1 .. beats: for each rest how many traffics of so many beats may come behind it."""
+        told = [[1] * len(self.rows)]
+        for _ in range(beats):
+            sums = [sums_from(places, told[-1]) for places in self.kinds]
+            told.append([sums[number][taken] for number, taken in self.takes])
+        return told
+
+
+def sums_from(places, counts):
+    """For each one of places the sum of the counts there, and at all places behind it."""
+    told = [0] * len(places)
+    total = 0
+    for letters in range(len(places) - 1, -1, -1):
+        if places[letters] is not None:
+            total += counts[places[letters]]
+            told[letters] = total
+    return told
 
 
 def all_rests(promise):
@@ -56,23 +98,14 @@ def all_rests(promise):
 def all_moves(promise):
     """For each rest the places of the rests behind 0, 1, 2 .. letters more."""
     need_curve(promise)
-    return tuple(Rests(promise).moves)
-
-
-def counts_by_beats(moves, beats):
-    """For 0, 1 .. beats: for each rest how many traffics of so many beats may come behind it."""
-    told = [[1] * len(moves)]
-    for _ in range(beats):
-        last = told[-1]
-        told.append([sum([last[to] for to in row]) for row in moves])
-    return told
+    return tuple(Rests(promise).moves())
 
 
 def count_kept(promise, beats):
     """How many traffics of just so many beats keep the promise."""
     need_curve(promise)
     need_number(beats, 0, MOST_BEATS, "beats")
-    return counts_by_beats(all_moves(promise), beats)[beats][0]
+    return Rests(promise).counts(beats)[beats][0]
 
 
 def kept_at(promise, beats, place):
@@ -81,8 +114,9 @@ def kept_at(promise, beats, place):
     need_number(beats, 0, MOST_BEATS, "beats")
     if not is_number(place) or place < 0:
         raise BadNumber("place")
-    moves = all_moves(promise)
-    counts = counts_by_beats(moves, beats)
+    rests = Rests(promise)
+    moves = rests.moves()
+    counts = rests.counts(beats)
     if counts[beats][0] <= place:
         return None
     rest = 0
@@ -103,8 +137,9 @@ def kept_place(promise, traffic):
     if not is_traffic(traffic) or len(traffic) > MOST_BEATS:
         raise BadTraffic("traffic")
     need_kept(traffic, promise)
-    moves = all_moves(promise)
-    counts = counts_by_beats(moves, len(traffic))
+    rests = Rests(promise)
+    moves = rests.moves()
+    counts = rests.counts(len(traffic))
     rest = 0
     place = 0
     for beat, letters in enumerate(traffic):
