@@ -134,6 +134,24 @@ class Told(Case):
         for beats in NO_NUMBERS + (-1, 4001):
             self.refuses(BadNumber, values, flat(0), beats, part="beats")
 
+    def test_many_values(self):
+        for start, period, growth in (
+                ([3], 1, 2), ([3], 1, 0), ([0, 5], 1, 10 ** 9), ([0] * 393 + [1, 1, 1, 2, 2, 5, 9], 7, 8), ([0, 1, 4, 4, 5, 6, 7], 7, 9),
+                (list(range(0, 800, 2)), 59, 118), ([0] * 340 + [7] * 60, 60, 11), ([k // 2 for k in range(59)], 59, 31),
+                ([k * k for k in range(60)], 60, 4000), ([10 ** 9] * 400, 60, 10 ** 9), ([0] * 399 + [1], 1, 1),
+                ([1, 2, None], 1, 0), ([None], 1, 0), (list(range(399)) + [None], 1, 0)):
+            curve = Curve(start, period, growth)
+            row = list(start)
+            while len(row) < 4000:
+                row.append(None if row[-1] is None else row[len(row) - period] + growth)
+            many = len(curve.start)
+            for beats in (0, 1, many - 1, many, many + 1, many + 13, 2 * many + 100, 400, 401, 3999, 4000):
+                told = values(curve, beats)
+                self.assertEqual(told, row[:beats])
+                self.assertIs(type(told), list)
+            told.append(7)
+            self.assertEqual(values(curve, 4000), row)
+
     def test_flat(self):
         for number in (0, 1, BIG, None):
             self.assertEqual(values(flat(number), 5), [number] * 5)

@@ -10,6 +10,8 @@ from worstwait.kinds import are_numbers, is_from, is_list, need_number
 MOST = 10 ** 9
 MOST_GIVEN = 400
 MOST_MADE = 4000
+# Up to so many values, or rounds, are told one by one.
+FEW = 12
 
 
 class Curve:
@@ -72,9 +74,13 @@ def least_form(row, period, growth):
 
 def least_step(row, period, growth):
     """The least period of what comes at the end of row and behind it."""
+    # A period that is a part of this one has as great a part of the growth, a whole number.
+    least = period // gcd(period, growth)
+    if least == period:
+        return period
     tail = row[len(row) - period:]
     jumps = [two - one for one, two in zip(tail, tail[1:] + [tail[0] + growth])]
-    for step in range(1, period):
+    for step in range(least, period, least):
         if period % step == 0 and jumps[step:] == jumps[:period - step]:
             return step
     return period
@@ -127,12 +133,33 @@ def at(curve, beat):
 def first_values(curve, many):
     """The list of the first so many values, however many."""
     row = list(curve.start[:many])
+    lack = many - len(row)
+    if lack <= 0:
+        return row
     if has_none(curve):
-        return row + [None] * (many - len(row))
+        return row + [None] * lack
+    if lack > FEW:
+        return row + values_behind(curve, lack)
     period = curve.period
     while len(row) < many:
         row.append(row[len(row) - period] + curve.growth)
     return row
+
+
+def values_behind(curve, many):
+    """The first so many values behind the start, of a curve without a None."""
+    growth = curve.growth
+    ring = curve.start[regular_from(curve):]
+    rounds = -(-many // len(ring))
+    if growth == 0:
+        return (list(ring) * rounds)[:many]
+    if rounds < FEW:
+        return [one + lift for lift in range(growth, growth * rounds + 1, growth) for one in ring][:many]
+    # Of long rows each beat of the period is told at once, for all rounds.
+    told = [0] * (rounds * len(ring))
+    for place, one in enumerate(ring):
+        told[place::len(ring)] = list(range(one + growth, one + growth * rounds + 1, growth))
+    return told[:many]
 
 
 def value(curve, beat):

@@ -2,8 +2,8 @@
 
 from math import lcm
 
-from worstwait.curves import MOST, MOST_MADE, at, first_none, first_values, has_none, is_above, made
-from worstwait.curves import need_curve, regular_from
+from worstwait.curves import MOST, MOST_MADE, at, first_none, first_values, has_none, made, need_curve
+from worstwait.curves import regular_from
 from worstwait.errors import TooMany
 from worstwait.kinds import need_number
 
@@ -31,32 +31,40 @@ def first_above(curve, other):
     """The least beat at which the curve is above the other one; None without one."""
     need_two(curve, other)
     if has_none(curve) or has_none(other):
-        return above_ahead(curve, other, beats_to_look_at(curve, other))
+        return above_ahead(curve, other)
     step = common_period(curve, other)
     begin = max(regular_from(curve), regular_from(other))
-    found = above_ahead(curve, other, begin + step)
+    spare = gaps_of(first_values(other, begin + step), first_values(curve, begin + step))
     gain = gain_in(curve, other, step)
-    if found is not None or gain <= 0:
-        return found
-    gaps = [at(other, beat) - at(curve, beat) for beat in range(begin, begin + step)]
-    return min([begin + place + (gap // gain + 1) * step for place, gap in enumerate(gaps)])
+    if min(spare) < 0:
+        return first_below(spare, 0)
+    if gain <= 0:
+        return None
+    behind = spare[begin:]
+    rounds = min(behind) // gain + 1
+    return begin + first_below(behind, rounds * gain) + rounds * step
 
 
-def beats_to_look_at(curve, other):
-    """Behind how many beats nothing new comes, if one of the two has a None."""
-    if has_none(other):
-        return first_none(other)
-    return first_none(curve) + 1
+def above_ahead(curve, other):
+    """The least beat at which the curve is above the other one, if one of them has a None."""
+    many = shorter_end(curve, other)
+    spare = gaps_of(first_values(other, many), first_values(curve, many))
+    if spare and min(spare) < 0:
+        return first_below(spare, 0)
+    return many if at(curve, many) is None and at(other, many) is not None else None
 
 
-def above_ahead(curve, other, beats):
-    """The least of the first so many beats at which the curve is above."""
-    row = first_values(curve, beats)
-    other_row = first_values(other, beats)
-    for beat, (mine, its) in enumerate(zip(row, other_row)):
-        if is_above(mine, its):
-            return beat
-    return None
+def gaps_of(row, other_row):
+    """By how much the numbers of a row are above those of another one."""
+    return [one - two for one, two in zip(row, other_row)]
+
+
+def first_below(row, number):
+    """The first place at which a row is below a number; there is one."""
+    place = 0
+    while row[place] >= number:
+        place += 1
+    return place
 
 
 def is_below(curve, other):
@@ -77,13 +85,15 @@ def last_above(row, other_row, begin, gain):
     Both begin at beat begin and tell as many beats; each time as many beats
     later other_row has come nearer by gain, which is above 0.
     """
-    step = len(row)
-    last = None
-    for place, gap in enumerate([one - two for one, two in zip(row, other_row)]):
-        if gap > 0:
-            beat = begin + place + (gap - 1) // gain * step
-            last = beat if last is None else max(last, beat)
-    return last
+    gaps = gaps_of(row, other_row)
+    most = max(gaps)
+    if most <= 0:
+        return None
+    rounds = (most - 1) // gain
+    place = len(gaps) - 1
+    while gaps[place] <= rounds * gain:
+        place -= 1
+    return begin + place + rounds * len(gaps)
 
 
 def last_lead(slow, fast, step):
@@ -104,16 +114,6 @@ def last_lead(slow, fast, step):
     return last
 
 
-def lesser(one, two):
-    """The lesser one of two values."""
-    return two if is_above(one, two) else one
-
-
-def greater(one, two):
-    """The greater one of two values."""
-    return one if is_above(one, two) else two
-
-
 def settled(curve, other, least):
     """From which beat on, and as which one of the two, the joined curve goes on.
 
@@ -125,64 +125,78 @@ def settled(curve, other, least):
     return max(last + 1, regular_from(kept)), kept
 
 
+def shorter_end(curve, other):
+    """The first beat at which one of the two has a None, if one has it."""
+    return min([first_none(one) for one in (curve, other) if has_none(one)])
+
+
+def lesser_row(row, other_row):
+    """The lesser numbers of two rows."""
+    return [one if one < two else two for one, two in zip(row, other_row)]
+
+
+def greater_row(row, other_row):
+    """The greater numbers of two rows."""
+    return [one if one > two else two for one, two in zip(row, other_row)]
+
+
+def added_row(row, other_row):
+    """The sums of the numbers of two rows."""
+    return [one + two for one, two in zip(row, other_row)]
+
+
 def least_of(curve, other):
     """The curve of the lesser value at each beat."""
     need_two(curve, other)
-    if has_none(curve) and has_none(other):
-        begin = max(first_none(curve), first_none(other))
-        return joined_by(lesser, curve, other, begin + 1, 1, 0)
-    if has_none(curve) or has_none(other):
-        ending, going = (curve, other) if has_none(curve) else (other, curve)
-        begin = max(first_none(ending), regular_from(going))
-        return joined_by(lesser, curve, other, begin + going.period, going.period, going.growth)
-    return joined_numbers(lesser, curve, other, True)
+    if not has_none(curve) and not has_none(other):
+        return joined_numbers(lesser_row, curve, other, True)
+    # Behind the first None the one that goes on is the lesser one.
+    many = shorter_end(curve, other)
+    going = other if at(curve, many) is None else curve
+    row = lesser_row(first_values(curve, many), first_values(other, many))
+    enough = max(many + going.period, len(going.start))
+    return made(row + first_values(going, enough)[many:], going.period, going.growth)
 
 
 def most_of(curve, other):
     """The curve of the greater value at each beat."""
     need_two(curve, other)
     if has_none(curve) or has_none(other):
-        return joined_by(greater, curve, other, shorter_end(curve, other) + 1, 1, 0)
-    return joined_numbers(greater, curve, other, False)
+        return joined_ends(greater_row, curve, other)
+    return joined_numbers(greater_row, curve, other, False)
 
 
-def shorter_end(curve, other):
-    """The first beat at which one of the two has a None, if one has it."""
-    return min([first_none(one) for one in (curve, other) if has_none(one)])
-
-
-def joined_numbers(pick, curve, other, least):
+def joined_numbers(joined_row, curve, other, least):
     """The lesser or the greater one of two curves without a None."""
     step = common_period(curve, other)
     if gain_in(curve, other, step) == 0:
         begin = max(regular_from(curve), regular_from(other))
         growth = step // curve.period * curve.growth
-        return joined_by(pick, curve, other, begin + step, step, growth)
+        return joined_by(joined_row, curve, other, begin + step, step, growth)
     begin, kept = settled(curve, other, least)
-    return joined_by(pick, curve, other, begin + kept.period, kept.period, kept.growth)
+    return joined_by(joined_row, curve, other, begin + kept.period, kept.period, kept.growth)
 
 
-def joined_by(pick, curve, other, many, period, growth):
+def joined_by(joined_row, curve, other, many, period, growth):
     """The curve that goes on by period and growth behind its first many values."""
-    row = first_values(curve, many)
-    other_row = first_values(other, many)
-    return made([pick(one, two) for one, two in zip(row, other_row)], period, growth)
+    return made(joined_row(first_values(curve, many), first_values(other, many)), period, growth)
 
 
-def added_values(one, two):
-    """The sum of two values."""
-    return None if one is None or two is None else one + two
+def joined_ends(joined_row, curve, other):
+    """The curve that is without end as soon as one of the two is."""
+    many = shorter_end(curve, other)
+    return made(joined_row(first_values(curve, many), first_values(other, many)) + [None], 1, 0)
 
 
 def sum_of(curve, other):
     """The curve of the sum at each beat."""
     need_two(curve, other)
     if has_none(curve) or has_none(other):
-        return joined_by(added_values, curve, other, shorter_end(curve, other) + 1, 1, 0)
+        return joined_ends(added_row, curve, other)
     step = common_period(curve, other)
     begin = max(regular_from(curve), regular_from(other))
     growth = step // curve.period * curve.growth + step // other.period * other.growth
-    return joined_by(added_values, curve, other, begin + step, step, growth)
+    return joined_by(added_row, curve, other, begin + step, step, growth)
 
 
 def later(curve, beats):
