@@ -10,11 +10,11 @@ import re
 import unittest
 
 FOLDER = os.path.join(os.path.dirname(os.path.dirname(os.path.abspath(__file__))), "worstwait")
-LIBRARY = {"heapq": {"heappush", "heappop"}, "math": {"gcd", "lcm"}, "itertools": {"permutations"}}
+LIBRARY = {"heapq": {"heappush", "heappop"}, "math": {"gcd", "lcm"}, "itertools": {"combinations", "permutations"}}
 BUILTINS = set("""len range enumerate zip min max sum abs sorted reversed int str bool list tuple dict set
 isinstance ord repr any all divmod type ValueError KeyError""".split())
-METHODS = set("append clear copy count extend get index insert items join keys pop remove setdefault startswith "
-              "update values".split())
+METHODS = set("append clear copy count extend get index insert items join keys partition pop remove setdefault "
+              "split startswith update values".split())
 BARRED = set("""mro elements open input law version_info with_traceback add_note register attrgetter breakpoint
 builtins compile copyright credits delattr dir eval exec exit gc getattr globals hasattr help id importlib
 license locals methodcaller os quit setattr super vars sys typing enum""".split())
@@ -199,8 +199,9 @@ class Statements(unittest.TestCase):
                 self.assertIsInstance(node.exc.func, ast.Name, where)
                 self.assertIsNone(node.cause, where)
             if isinstance(node, ast.ExceptHandler):
-                self.assertIsInstance(node.type, ast.Name, where)
-                self.assertRegex(node.type.id, "^(Bad|TooMany|Not)", where)
+                for kind in node.type.elts if isinstance(node.type, ast.Tuple) else [node.type]:
+                    self.assertIsInstance(kind, ast.Name, where)
+                    self.assertRegex(kind.id, "^(Bad|TooMany|Not)", where)
             if isinstance(node, (ast.FunctionDef, ast.ClassDef)):
                 self.assertEqual(node.decorator_list, [], where)
 
@@ -265,7 +266,8 @@ class Kept(unittest.TestCase):
                 if not isinstance(node, ast.Call):
                     continue
                 name = ast.unparse(node.func).split(".")[-1]
-                if name not in ("zip", "enumerate", "reversed", "items", "values", "keys", "range", "permutations"):
+                if name not in ("zip", "enumerate", "reversed", "items", "values", "keys", "range", "permutations",
+                                "combinations"):
                     continue
                 if name in ("values", "keys", "items") and not isinstance(node.func, ast.Attribute):
                     continue

@@ -71,8 +71,28 @@ ROWS = {
                  "whole_wait(net, flow); net_bounds(net); server_heap(net, server)",
     "changes": "is_change(thing); changed(net, change); spread(net, change); touched(net, change); "
                "unlike_bounds(net, other)",
+    "limits": "broken_limits(net, limits); burst_room(net, limits, flow, most); "
+              "least_speed(net, limits, server, most); fewest_gone(net, limits)",
+    "sessions": "is_deed(thing); Session(net)",
+    "journals": "deed_text(deed); deed_of_text(text); journal(session); taken_up(net, lines); trimmed(session)",
+    "desk": "Desk(net)",
+    "shapers": "shaped(traffic, promise); heap_in(traffic, promise); wait_in(traffic, promise)",
+    "toldbounds": "left_to(station, promises, flow); told_wait(station, promises, flow); "
+                  "told_heap(station, promises, flow)",
+    "searches": "all_traffics(promise, beats); worst(station, promises, flow, beats); "
+                "worst_heap(station, promises, flow, beats); worst_phase(speeds, promise); "
+                "never_worse(station, other, beats)",
+    "leastrows": "least_rows(station, promises, flow, wait, beats)",
+    "windows": "window_run(server, window, row); windowed(server, window); least_window(server); "
+               "throughput(server, window); window_for(server, steps, beats)",
+    "floors": "is_floor(system, steps, beats, thing); floor_of(system, steps, beats); "
+              "slower(system, steps, beats); is_slower(system, steps, beats, thing)",
+    "withins": "is_within(promise, other); are_alike(promise, other); traffic_between(promise, other)",
 }
-METHODS = {("keepers", "Keeper"): "ask(self, name, promise, deadline); drop(self, name)"}
+METHODS = {("keepers", "Keeper"): "ask(self, name, promise, deadline); drop(self, name)",
+           ("sessions", "Session"): "do(self, deed); undo(self); redo(self); bounds(self); limits(self); "
+                                    "broken(self); deeds(self); undone(self); what_if(self, deed); since(self, number)",
+           ("desk", "Desk"): "say(self, line)"}
 
 
 def taken(thing):

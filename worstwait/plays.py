@@ -1,4 +1,4 @@
-"""Plays of stations, letter by letter."""
+"""Plays of stations: which letters leave at which beat."""
 
 from math import lcm
 
@@ -9,114 +9,183 @@ from worstwait.stations import is_rows
 MOST_BEATS = 4000
 
 
-class Play:
-    """A station at work: what lies in it, and what its rule has to remember.
+class Ranks:
+    """Letters that leave by rank: heaps tells how many of each flow lie there."""
 
-    queues holds for each flow the pairs (beat, mark) of all letters that
-    came, left how many of them have left.
+    def __init__(self, flows):
+        self.heaps = [0] * flows
+
+    def come(self, letters):
+        """So many letters of each flow come."""
+        self.heaps = [heap + more for heap, more in zip(self.heaps, letters)]
+
+    def leave(self, many):
+        """So many letters leave, as many being there: how many of each flow."""
+        told = []
+        for heap in self.heaps:
+            told.append(min(heap, many))
+            many -= told[-1]
+        self.heaps = [heap - less for heap, less in zip(self.heaps, told)]
+        return tuple(told)
+
+
+class Come:
+    """Letters that leave as they came: lots has pairs of a flow and how many of it came at once.
+
+    begun tells which lot is the first one there, spent how many of it have left.
     """
 
-    def __init__(self, station):
-        self.station = station
-        self.queues = [[] for _ in range(station.flows)]
-        self.left = [0] * station.flows
+    def __init__(self, flows):
+        self.flows = flows
+        self.lots = []
+        self.begun = 0
+        self.spent = 0
+
+    def come(self, letters):
+        """So many letters of each flow come."""
+        for flow, many in enumerate(letters):
+            if many > 0:
+                self.lots.append((flow, many))
+
+    def leave(self, many):
+        """So many letters leave, as many being there: how many of each flow."""
+        told = [0] * self.flows
+        while many > 0:
+            flow, size = self.lots[self.begun]
+            part = min(many, size - self.spent)
+            told[flow] += part
+            many -= part
+            self.spent += part
+            if self.spent == size:
+                self.begun += 1
+                self.spent = 0
+        return tuple(told)
+
+
+class Turns:
+    """Letters that leave by turns: holder is the flow that holds, to_go how many of it are to go."""
+
+    def __init__(self, quanta):
+        self.quanta = quanta
+        self.heaps = [0] * len(quanta)
         self.holder = 0
-        self.to_go = 0
+        self.to_go = quanta[0]
+
+    def come(self, letters):
+        """So many letters of each flow come."""
+        self.heaps = [heap + more for heap, more in zip(self.heaps, letters)]
+
+    def leave(self, many):
+        """So many letters leave, as many being there: how many of each flow."""
+        told = [0] * len(self.quanta)
+        while many > 0:
+            part = min(many, self.to_go, self.heaps[self.holder])
+            if part == 0:
+                self.holder = (self.holder + 1) % len(self.quanta)
+                self.to_go = self.quanta[self.holder]
+            else:
+                told[self.holder] += part
+                self.heaps[self.holder] -= part
+                self.to_go -= part
+                many -= part
+        return tuple(told)
+
+
+class Shares:
+    """Letters that leave by shares: marks has for each flow those of its letters, left how many left."""
+
+    def __init__(self, shares):
+        whole = 1
+        for share in shares:
+            whole = lcm(whole, share)
+        self.mark_steps = [whole // share for share in shares]
         self.mark = 0
-        self.next_marks = [0] * station.flows
-        self.mark_steps = [0] * station.flows
-        word, told = station.rule
-        if word == "turns":
-            self.to_go = told[0]
-        if word == "shares":
-            whole = 1
-            for share in told:
-                whole = lcm(whole, share)
-            self.mark_steps = [whole // share for share in told]
+        self.next_marks = [0] * len(shares)
+        self.marks = [[] for _ in shares]
+        self.left = [0] * len(shares)
 
-    def waiting(self):
-        """The flows that have letters, the least first."""
-        return [flow for flow, queue in enumerate(self.queues) if len(queue) > self.left[flow]]
+    def come(self, letters):
+        """So many letters of each flow come."""
+        for flow, many in enumerate(letters):
+            for _ in range(many):
+                mark = max(self.mark, self.next_marks[flow])
+                self.marks[flow].append(mark)
+                self.next_marks[flow] = mark + self.mark_steps[flow]
 
-    def head(self, flow):
-        """The pair of the letter of this flow that leaves next."""
-        return self.queues[flow][self.left[flow]]
+    def leave(self, many):
+        """So many letters leave, as many being there: how many of each flow."""
+        told = [0] * len(self.left)
+        for _ in range(many):
+            heads = self.first_marks()
+            self.mark, flow = min(heads)
+            self.left[flow] += 1
+            told[flow] += 1
+            if len(heads) == 1 and self.left[flow] == len(self.marks[flow]):
+                self.mark = max(self.next_marks)
+        return tuple(told)
 
-    def come(self, flow, letters, beat):
-        """So many letters of a flow come."""
-        for _ in range(letters):
-            mark = max(self.mark, self.next_marks[flow])
-            self.queues[flow].append((beat, mark))
-            self.next_marks[flow] = mark + self.mark_steps[flow]
+    def first_marks(self):
+        """For each flow that has letters the mark of the first one, and the flow."""
+        places = list(enumerate(self.left))
+        return [(self.marks[flow][gone], flow) for flow, gone in places if gone < len(self.marks[flow])]
 
-    def leave(self):
-        """One letter leaves, some letter being there: its flow."""
-        flow = self.chosen()
-        self.mark = self.head(flow)[1]
-        self.left[flow] += 1
-        if not self.waiting():
-            self.mark = max(self.next_marks)
-        return flow
 
-    def chosen(self):
-        """The flow whose letter leaves next."""
-        word = self.station.rule[0]
-        waiting = self.waiting()
-        if word == "ranks":
-            return waiting[0]
-        if word == "come":
-            return min([(self.head(flow)[0], flow) for flow in waiting])[1]
-        if word == "shares":
-            return min([(self.head(flow)[1], flow) for flow in waiting])[1]
-        return self.turned_to(waiting)
-
-    def turned_to(self, waiting):
-        """The flow that holds, once it has letters and some to go: one less is to go then."""
-        quanta = self.station.rule[1]
-        while self.to_go == 0 or self.holder not in waiting:
-            self.holder = (self.holder + 1) % len(quanta)
-            self.to_go = quanta[self.holder]
-        self.to_go -= 1
-        return self.holder
+def queue_of(rule):
+    """What lies at a station of this rule, ahead of beat 0."""
+    word, told = rule
+    if word == "ranks":
+        return Ranks(told)
+    if word == "come":
+        return Come(told)
+    return Turns(told) if word == "turns" else Shares(told)
 
 
 def leavings(station, rows):
-    """For each beat the list of the flows whose letters leave, one by one."""
-    if not is_rows(station, rows):
-        raise BadRows("rows of numbers for each flow of the station are wanted")
-    play = Play(station)
+    """What played tells, of rows that are known to be right, in a list."""
+    queue = queue_of(station.rule)
+    speeds = station.speeds
+    nothing = (0,) * station.flows
     told = []
-    while len(told) < len(rows[0]) or play.waiting():
-        beat = len(told)
+    there = 0
+    beat = 0
+    while beat < len(rows[0]) or there > 0:
         if beat == MOST_BEATS:
             raise TooMany(MOST_BEATS)
         if beat < len(rows[0]):
-            for flow, row in enumerate(rows):
-                play.come(flow, row[beat], beat)
-        gone = []
-        while len(gone) < station.speeds[beat % len(station.speeds)] and play.waiting():
-            gone.append(play.leave())
-        told.append(gone)
+            letters = [row[beat] for row in rows]
+            queue.come(letters)
+            there += sum(letters)
+        many = min(there, speeds[beat % len(speeds)])
+        there -= many
+        told.append(queue.leave(many) if many > 0 else nothing)
+        beat += 1
     return told
+
+
+def need_rows_of(station, rows):
+    """Raise the errors of what is no station and of what are no rows for it."""
+    if not is_rows(station, rows):
+        raise BadRows("rows of numbers for each flow of the station are wanted")
 
 
 def played(station, rows):
     """For each beat how many letters of each flow leave."""
-    told = leavings(station, rows)
-    return tuple([tuple([gone.count(flow) for flow in range(station.flows)]) for gone in told])
+    need_rows_of(station, rows)
+    return tuple(leavings(station, rows))
+
+
+def beats_of(row):
+    """The beats of letters, one by one, of which a row tells how many there are at each beat."""
+    return [beat for beat, letters in enumerate(row) for _ in range(letters)]
 
 
 def letter_waits(station, rows):
     """For each flow the waits of its letters, in their sequence."""
-    run = leavings(station, rows)
-    ends = [[] for _ in rows]
-    for beat, gone in enumerate(run):
-        for flow in gone:
-            ends[flow].append(beat)
+    run = played(station, rows)
     told = []
-    for row, end in zip(rows, ends):
-        begins = [beat for beat, letters in enumerate(row) for _ in range(letters)]
-        told.append(tuple([last - first for first, last in zip(begins, end)]))
+    for flow, row in enumerate(rows):
+        ends = beats_of([gone[flow] for gone in run])
+        told.append(tuple([end - begin for begin, end in zip(beats_of(row), ends)]))
     return tuple(told)
 
 
