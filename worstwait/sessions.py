@@ -60,8 +60,7 @@ class Session:
     def __eq__(self, other):
         if not isinstance(other, Session):
             return False
-        mine = self.first, self.done, [deed for deed, stand in self.taken_back]
-        return mine == (other.first, other.done, [deed for deed, stand in other.taken_back])
+        return (self.first, self.done, self.undone()) == (other.first, other.done, other.undone())
 
     def stand_behind(self, deed):
         """What there would be behind one deed more."""
