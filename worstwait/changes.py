@@ -2,7 +2,7 @@
 
 from worstwait.errors import BadChange, NotLet
 from worstwait.kinds import is_word
-from worstwait.netbounds import Doors
+from worstwait.netbounds import Doors, net_bounds
 from worstwait.nets import MOST_FLOWS, MOST_SERVERS, Net, in_sequence, is_flow, is_server, need_net, stops
 
 
@@ -150,19 +150,23 @@ def unlike_bounds(net, other):
     """The quadruples (flow, server, before, behind) of all bounds that are unlike in two nets, ascending."""
     need_net(net)
     need_net(other)
-    before = all_bounds(net)
-    behind = all_bounds(other)
+    return unlike_of(net_bounds(net), net_bounds(other))
+
+
+def unlike_of(bounds, other):
+    """What unlike_bounds tells, of what net_bounds tells of both nets."""
+    before = by_stops(bounds)
+    behind = by_stops(other)
     places = sorted(list(before) + [place for place in behind if place not in before])
     pairs = [(place, before.get(place), behind.get(place)) for place in places]
     return [place + (one, two) for place, one, two in pairs if one != two]
 
 
-def all_bounds(net):
+def by_stops(bounds):
     """The dict of the bounds at each stop, a pair, and with "" as the server of each whole wait, alone in a tuple."""
-    doors = Doors(net)
     told = {}
-    for word in words_of(net.flows):
-        told[word, ""] = (doors.whole(word),)
-    for word, server in stops(net):
-        told[word, server] = doors.bounds_at(word, server)
+    for word, (whole, rows) in bounds.items():
+        told[word, ""] = (whole,)
+        for server, wait, heap in rows:
+            told[word, server] = wait, heap
     return told

@@ -1,9 +1,9 @@
 """A desk: lines that are said to a session, and its answers."""
 
+from worstwait.changes import unlike_of
 from worstwait.errors import BadLine, NotLet, TooMany
 from worstwait.journals import deed_of_text, journal
 from worstwait.limits import MOST_TRIES, burst_room, fewest_gone, least_speed
-from worstwait.changes import unlike_bounds
 from worstwait.sessions import Session
 from worstwait.tokens import is_digit
 
@@ -41,20 +41,18 @@ def answer(session, line):
     if word == "if":
         found = session.what_if(deed_of_text(line.partition(" ")[2]))
         return unlike_lines(found[0])
-    deed = deed_of_text(line)
-    before = session.net
-    session.do(deed)
-    return unlike_lines(unlike_bounds(before, session.net))
+    session.do(deed_of_text(line))
+    return unlike_lines(session.since(len(session.done) - 1))
 
 
 def done_again(session, line):
     """The answer to undo and to redo."""
-    before = session.net
+    before = session.stands[-1]
     if line == "undo":
         session.undo()
     else:
         session.redo()
-    return unlike_lines(unlike_bounds(before, session.net))
+    return unlike_lines(unlike_of(before.bounds(), session.stands[-1].bounds()))
 
 
 def asked(session, line):

@@ -4,7 +4,6 @@ from worstwait.curvetexts import curve_of_text
 from worstwait.errors import BadDeed, BadLine, BadText, NotLet, TooMany
 from worstwait.kinds import is_list
 from worstwait.limits import MOST_LIMIT
-from worstwait.netbounds import net_bounds
 from worstwait.nets import need_net
 from worstwait.nettexts import flow_line, server_line
 from worstwait.sessions import Session, is_deed, need_session
@@ -126,7 +125,7 @@ def stands_without(deeds, stands, place):
         except NotLet:
             return None
         further.append(stand)
-    if not all([can_be_told(one.net) for one in further]):
+    if not all([can_be_told(one) for one in further]):
         return None
     # From here on there is again what there was, one deed sooner.
     return further + stands[place + 2 + len(further):]
@@ -137,10 +136,10 @@ def is_same(stand, other):
     return stand.net == other.net and stand.most == other.most
 
 
-def can_be_told(net):
-    """Whether the bounds of a net are told."""
+def can_be_told(stand):
+    """Whether the bounds of the net are told."""
     try:
-        net_bounds(net)
+        stand.bounds()
     except TooMany:
         return False
     return True

@@ -1,9 +1,9 @@
 """Sessions: a net that is worked on, deed by deed, and each deed taken back and done again."""
 
-from worstwait.changes import changed, is_change, unlike_bounds
+from worstwait.changes import changed, is_change, unlike_of
 from worstwait.errors import BadDeed, BadSession, NotLet
 from worstwait.kinds import is_word, need_number
-from worstwait.limits import broken_of, is_limit
+from worstwait.limits import is_limit
 from worstwait.netbounds import net_bounds
 
 
@@ -19,26 +19,47 @@ def is_deed(thing):
 
 
 class Stand:
-    """What there is behind some deeds: a net, and the limits of its flows."""
+    """What there is behind some deeds: a net, and the limits of its flows.
+
+    told is what net_bounds tells of the net, None as long as nobody asked.
+    """
 
     def __init__(self, net, most):
         self.net = net
         self.most = most
+        self.told = None
+
+    def bounds(self):
+        """What net_bounds tells of the net."""
+        if self.told is None:
+            self.told = net_bounds(self.net)
+        return self.told
+
+    def broken(self):
+        """The flows that break their limits, ascending."""
+        waits = {word: whole for word, (whole, rows) in self.bounds().items() if word in self.most}
+        return [word for word, wait in waits.items() if wait is None or wait > self.most[word]]
+
+    def limited(self, most):
+        """The same net with other limits."""
+        stand = Stand(self.net, most)
+        stand.told = self.told
+        return stand
 
     def behind(self, deed):
         """What there is behind one deed more."""
         kind, word = deed[:2]
-        most = dict(self.most)
+        others = {other: number for other, number in self.most.items() if other != word}
         if kind == "limit":
             if word not in [flow[0] for flow in self.net.flows]:
                 raise NotLet("word")
-            most[word] = deed[2]
-            return Stand(self.net, most)
-        if kind == "free" and word not in most:
-            raise NotLet("word")
-        if kind in ("free", "gone"):
-            most = {other: number for other, number in most.items() if other != word}
-        return Stand(self.net if kind == "free" else changed(self.net, deed), most)
+            others[word] = deed[2]
+            return self.limited(others)
+        if kind == "free":
+            if word not in self.most:
+                raise NotLet("word")
+            return self.limited(others)
+        return Stand(changed(self.net, deed), others if kind == "gone" else self.most)
 
 
 class Session:
@@ -50,11 +71,12 @@ class Session:
     """
 
     def __init__(self, net):
-        net_bounds(net)
+        stand = Stand(net, {})
+        stand.bounds()
         self.first = net
         self.net = net
         self.done = []
-        self.stands = [Stand(net, {})]
+        self.stands = [stand]
         self.taken_back = []
 
     def __eq__(self, other):
@@ -67,8 +89,7 @@ class Session:
         if not is_deed(deed):
             raise BadDeed("a change, a limit or its end is wanted")
         stand = self.stands[-1].behind(deed)
-        if is_change(deed):
-            net_bounds(stand.net)
+        stand.bounds()
         return stand
 
     def put_on(self, deed, stand):
@@ -99,7 +120,7 @@ class Session:
 
     def bounds(self):
         """The bounds of the present net."""
-        return net_bounds(self.net)
+        return dict(self.stands[-1].bounds())
 
     def limits(self):
         """The present limits, ascending."""
@@ -108,7 +129,7 @@ class Session:
 
     def broken(self):
         """The flows that break their limits, ascending."""
-        return broken_of(self.net, self.stands[-1].most)
+        return self.stands[-1].broken()
 
     def deeds(self):
         """The list of the present deeds."""
@@ -121,12 +142,12 @@ class Session:
     def what_if(self, deed):
         """The unlike bounds behind a deed, and which limits would be broken; nothing is changed."""
         stand = self.stand_behind(deed)
-        return unlike_bounds(self.net, stand.net), broken_of(stand.net, stand.most)
+        return unlike_of(self.stands[-1].bounds(), stand.bounds()), stand.broken()
 
     def since(self, number):
         """The unlike bounds of the net behind the first so many deeds and of the present one."""
         need_number(number, 0, len(self.done), "number")
-        return unlike_bounds(self.stands[number].net, self.net)
+        return unlike_of(self.stands[number].bounds(), self.stands[-1].bounds())
 
 
 def need_session(thing):
