@@ -149,17 +149,18 @@ def first_values(curve, many):
 def values_behind(curve, many):
     """The first so many values behind the start, of a curve without a None."""
     growth = curve.growth
-    ring = curve.start[regular_from(curve):]
-    rounds = -(-many // len(ring))
+    row = [one + growth for one in curve.start[regular_from(curve):]]
     if growth == 0:
-        return (list(ring) * rounds)[:many]
-    if rounds < FEW:
-        return [one + lift for lift in range(growth, growth * rounds + 1, growth) for one in ring][:many]
-    # Of long rows each beat of the period is told at once, for all rounds.
-    told = [0] * (rounds * len(ring))
-    for place, one in enumerate(ring):
-        told[place::len(ring)] = list(range(one + growth, one + growth * rounds + 1, growth))
-    return told[:many]
+        # Then it is the same number for ever: the least form has a period of 1.
+        return row * many
+    if len(row) == 1:
+        return list(range(row[0], row[0] + growth * many, growth))
+    # Few long rounds take less time than many short ones.
+    while len(row) < FEW:
+        row = row + [one + growth for one in row]
+        growth = growth + growth
+    rounds = -(-many // len(row))
+    return [one + lift for lift in range(0, growth * rounds, growth) for one in row][:many]
 
 
 def value(curve, beat):
